@@ -1,0 +1,106 @@
+package exact
+
+import (
+	"math/big"
+	"math/rand"
+	"strings"
+	"testing"
+
+	"lenslet/api"
+	"lenslet/whole"
+)
+
+// some returns a rational number, often with small parts, so that common divisors are frequent.
+func some(random *rand.Rand) *big.Rat {
+	part := func() *big.Int {
+		limit := new(big.Int).Lsh(big.NewInt(1), uint([...]int{1, 3, 6, 40, 64, 200}[random.Intn(6)]))
+		return new(big.Int).Rand(random, limit)
+	}
+	above, below := part(), part()
+	if random.Intn(2) == 0 {
+		above.Neg(above)
+	}
+	return new(big.Rat).SetFrac(above, below.Add(below, big.NewInt(1)))
+}
+
+// from returns a number of this package.
+func from(t *testing.T, x *big.Rat) Number {
+	t.Helper()
+	a, e := Parse(api.Rat(x.RatString()))
+	if e != api.OK {
+		t.Fatalf("Parse of %s: %d", x.RatString(), e)
+	}
+	return a
+}
+
+// same reports a number that is not the expected one.
+func same(t *testing.T, what string, got Number, wanted *big.Rat) {
+	t.Helper()
+	if s, e := got.Rat(); e != api.OK || string(s) != wanted.RatString() {
+		t.Fatalf("%s: got %s, %d, want %s", what, s, e, wanted.RatString())
+	}
+}
+
+func TestArithmetic(t *testing.T) {
+	random := rand.New(rand.NewSource(1))
+	for range 20000 {
+		x, y := some(random), some(random)
+		a, b := from(t, x), from(t, y)
+		same(t, "Add", a.Add(b), new(big.Rat).Add(x, y))
+		same(t, "Sub", a.Sub(b), new(big.Rat).Sub(x, y))
+		same(t, "Sub of itself", a.Sub(a), new(big.Rat))
+		same(t, "Mul", a.Mul(b), new(big.Rat).Mul(x, y))
+		same(t, "Neg", a.Neg(), new(big.Rat).Neg(x))
+		if y.Sign() != 0 {
+			same(t, "Quo", a.Quo(b), new(big.Rat).Quo(x, y))
+		}
+		if a.Compare(b) != x.Cmp(y) || a.Compare(a) != 0 || a.Sign() != x.Sign() {
+			t.Fatalf("Compare or Sign of %v and %v", x, y)
+		}
+		floor := new(big.Int).Div(x.Num(), x.Denom())
+		same(t, "Floor", Whole(a.Floor()), new(big.Rat).SetInt(floor))
+		if a.Above().Text() != x.Num().String() || a.Below().Text() != x.Denom().String() {
+			t.Fatalf("Above or Below of %v", x)
+		}
+	}
+}
+
+func TestZero(t *testing.T) {
+	var zero Number
+	one := Of(1, 1)
+	for what, got := range map[string]Number{"the zero value": zero, "Add": zero.Add(zero), "Mul": one.Mul(zero), "Quo": zero.Quo(one), "Quo by 0": one.Quo(zero), "Of by 0": Of(3, 0), "New by 0": New(whole.Of(3), whole.Int{}), "Neg": zero.Neg()} {
+		same(t, what, got, new(big.Rat))
+	}
+	same(t, "Add", zero.Add(one), big.NewRat(1, 1))
+	same(t, "Of", Of(6, -4), big.NewRat(-3, 2))
+	if zero.Compare(one) != -1 || one.Compare(zero) != 1 || zero.Below().Text() != "1" {
+		t.Error("Compare or Below of the zero value")
+	}
+}
+
+func TestDigits(t *testing.T) {
+	nines := whole.Power(10, api.MaxDigits).Sub(whole.Of(1))
+	for _, row := range []struct {
+		a Number
+		e api.Errno
+	}{
+		{Whole(nines), api.OK},
+		{Whole(nines.Neg()), api.OK},
+		{New(whole.Of(1), nines), api.OK},
+		{Whole(nines.Add(whole.Of(1))), api.ErrLarge},
+		{Whole(nines.Add(whole.Of(1)).Neg()), api.ErrLarge},
+		{New(whole.Of(-1), nines.Add(whole.Of(1))), api.ErrLarge},
+		{Whole(whole.Power(10, 5000)), api.ErrLarge},
+	} {
+		s, e := row.a.Rat()
+		if e != row.e || (s == "") != (e != api.OK) {
+			t.Errorf("Rat: got %s, %d, want %d", s, e, row.e)
+		}
+	}
+	if got := nines.BitLen(); got != maxBits {
+		t.Errorf("maxBits: got %d, want %d", maxBits, got)
+	}
+	if a, e := Parse(api.Rat(strings.Repeat("9", api.MaxDigits+1))); e != api.ErrLarge || a.Sign() != 0 {
+		t.Error("Parse of too many digits")
+	}
+}

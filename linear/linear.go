@@ -1,0 +1,182 @@
+// Package linear solves linear equations with exact numbers. A matrix is a list of rows that have
+// equally many numbers.
+package linear
+
+import (
+	"lenslet/exact"
+	"lenslet/whole"
+)
+
+// Echelon is a matrix in reduced echelon form, without its rows of zeros, in which all pivots are
+// the same integer instead of 1.
+type Echelon struct {
+	rows   [][]whole.Int
+	pivot  whole.Int
+	pivots []int
+}
+
+// Reduced returns the reduced echelon form of a matrix.
+func Reduced(m [][]exact.Number) Echelon {
+	e := Echelon{rows: make([][]whole.Int, len(m)), pivot: whole.Of(1)}
+	for i, row := range m {
+		e.rows[i] = withoutFractions(row)
+	}
+	if len(m) == 0 {
+		return e
+	}
+	for column := range m[0] {
+		e.eliminate(column)
+	}
+	e.rows = e.rows[:len(e.pivots)]
+	return e
+}
+
+// withoutFractions returns the smallest multiple of a row that consists of integers.
+func withoutFractions(row []exact.Number) []whole.Int {
+	common := whole.Of(1)
+	for _, x := range row {
+		common = common.Mul(x.Below().Quo(whole.Divisor(common, x.Below())))
+	}
+	var content whole.Int
+	integers := make([]whole.Int, len(row))
+	for i, x := range row {
+		integers[i] = x.Above().Mul(common.Quo(x.Below()))
+		content = whole.Divisor(content, integers[i])
+	}
+	for i, x := range integers {
+		integers[i] = x.Quo(orOne(content))
+	}
+	return integers
+}
+
+// orOne returns an integer that is at least 0, and 1 for 0.
+func orOne(a whole.Int) whole.Int {
+	if a.Sign() == 0 {
+		return whole.Of(1)
+	}
+	return a
+}
+
+// eliminate makes a column the next one with a pivot, if a row is left that is not 0 there. All
+// numbers remain integers, minors of the matrix (Bareiss), so that they stay small.
+func (e *Echelon) eliminate(column int) {
+	next := len(e.pivots)
+	found := next
+	for found < len(e.rows) && e.rows[found][column].Sign() == 0 {
+		found++
+	}
+	if found == len(e.rows) {
+		return
+	}
+	e.rows[next], e.rows[found] = e.rows[found], e.rows[next]
+	base := make([]whole.Int, len(e.rows[next]))
+	copy(base, e.rows[next])
+	combine := func(row []whole.Int) []whole.Int {
+		combined := make([]whole.Int, len(row))
+		for j, x := range row {
+			combined[j] = base[column].Mul(x).Sub(row[column].Mul(base[j])).Quo(e.pivot)
+		}
+		return combined
+	}
+	for i, row := range e.rows {
+		if i != next {
+			e.rows[i] = combine(row)
+		}
+	}
+	e.pivot = base[column]
+	e.pivots = append(e.pivots, column)
+}
+
+// Rank returns the number of rows that are not 0.
+func (e Echelon) Rank() int { return len(e.pivots) }
+
+// At returns a number of the reduced echelon form, in which the pivots are 1.
+func (e Echelon) At(row, column int) exact.Number {
+	return exact.New(e.rows[row][column], e.pivot)
+}
+
+// Solve returns the only list whose product with a matrix is the right side, which has a number
+// for each row, and whether there is exactly one.
+func Solve(m [][]exact.Number, right []exact.Number) ([]exact.Number, bool) {
+	if len(m) == 0 {
+		return nil, false
+	}
+	columns := len(m[0])
+	joined := make([][]exact.Number, len(m))
+	for i, row := range m {
+		joined[i] = make([]exact.Number, columns+1)
+		copy(joined[i], row)
+		joined[i][columns] = right[i]
+	}
+	e := Reduced(joined)
+	// A pivot in the last column is an equation 0 = 1.
+	if e.Rank() != columns || columns > 0 && e.pivots[columns-1] == columns {
+		return nil, false
+	}
+	solution := make([]exact.Number, columns)
+	for i := range solution {
+		solution[i] = e.At(i, columns)
+	}
+	return solution, true
+}
+
+// Kernel returns the basis, in reduced echelon form, of the lists whose product with a matrix is 0.
+func Kernel(m [][]exact.Number) [][]exact.Number {
+	if len(m) == 0 {
+		return nil
+	}
+	columns := len(m[0])
+	// With the columns in reverse, each free column depends on pivots further to the right alone:
+	// the basis is in echelon form from the left.
+	reversed := make([][]exact.Number, len(m))
+	for i, row := range m {
+		reversed[i] = make([]exact.Number, columns)
+		for j, x := range row {
+			reversed[i][columns-1-j] = x
+		}
+	}
+	e := Reduced(reversed)
+	rowOf := map[int]int{}
+	for i, column := range e.pivots {
+		rowOf[columns-1-column] = i
+	}
+	var basis [][]exact.Number
+	for free := range columns {
+		if _, bound := rowOf[free]; bound {
+			continue
+		}
+		vector := make([]exact.Number, columns)
+		for j := range vector {
+			if i, bound := rowOf[j]; bound {
+				vector[j] = e.At(i, columns-1-free).Neg()
+			}
+		}
+		vector[free] = exact.Of(1, 1)
+		basis = append(basis, vector)
+	}
+	return basis
+}
+
+// Transposed returns a matrix with rows and columns exchanged.
+func Transposed(m [][]exact.Number) [][]exact.Number {
+	if len(m) == 0 {
+		return nil
+	}
+	columns := make([][]exact.Number, len(m[0]))
+	for j := range columns {
+		columns[j] = make([]exact.Number, len(m))
+		for i, row := range m {
+			columns[j][i] = row[j]
+		}
+	}
+	return columns
+}
+
+// Product returns the sum of the products of the elements of two lists of the same length.
+func Product(a, b []exact.Number) exact.Number {
+	var sum exact.Number
+	for i, x := range a {
+		sum = sum.Add(x.Mul(b[i]))
+	}
+	return sum
+}

@@ -1,0 +1,150 @@
+package linear
+
+import (
+	"math/rand"
+	"testing"
+
+	"lenslet/exact"
+)
+
+// matrix returns a matrix of fractions; the last rows are sums of the first ones, so that its rank is at most the given one.
+func matrix(random *rand.Rand, rows, columns, rank int) [][]exact.Number {
+	m := make([][]exact.Number, rows)
+	for i := range m {
+		m[i] = make([]exact.Number, columns)
+		for j := range m[i] {
+			if i < rank {
+				m[i][j] = exact.Of(random.Intn(7)-3, 1+random.Intn(4))
+			} else if rank > 0 {
+				m[i][j] = m[i%rank][j].Mul(exact.Of(i, 3)).Sub(m[(i+1)%rank][j])
+			}
+		}
+	}
+	random.Shuffle(rows, func(i, k int) { m[i], m[k] = m[k], m[i] })
+	return m
+}
+
+// list returns numbers.
+func list(random *rand.Rand, n int) []exact.Number {
+	l := make([]exact.Number, n)
+	for i := range l {
+		l[i] = exact.Of(random.Intn(19)-9, 1+random.Intn(5))
+	}
+	return l
+}
+
+// product returns the product of a matrix and a list.
+func product(m [][]exact.Number, x []exact.Number) []exact.Number {
+	var all []exact.Number
+	for _, row := range m {
+		all = append(all, Product(row, x))
+	}
+	return all
+}
+
+// equal reports whether two lists have the same numbers.
+func equal(a, b []exact.Number) bool {
+	for i, x := range a {
+		if x.Compare(b[i]) != 0 {
+			return false
+		}
+	}
+	return len(a) == len(b)
+}
+
+func TestReducedAndKernel(t *testing.T) {
+	random := rand.New(rand.NewSource(1))
+	one := exact.Of(1, 1)
+	for range 400 {
+		rows, columns := 1+random.Intn(6), 1+random.Intn(6)
+		m := matrix(random, rows, columns, random.Intn(rows+1))
+		e := Reduced(m)
+		for i, pivot := range e.pivots {
+			if i > 0 && pivot <= e.pivots[i-1] {
+				t.Fatalf("pivots %v", e.pivots)
+			}
+			for k := range e.pivots {
+				if want := (map[bool]exact.Number{true: one})[i == k]; e.At(k, pivot).Compare(want) != 0 {
+					t.Fatalf("column %d of the echelon form", pivot)
+				}
+			}
+			for j := range pivot {
+				if e.At(i, j).Sign() != 0 {
+					t.Fatalf("row %d of the echelon form", i)
+				}
+			}
+		}
+		basis := Kernel(m)
+		if len(basis)+e.Rank() != columns {
+			t.Fatalf("%d vectors for the rank %d of %d columns", len(basis), e.Rank(), columns)
+		}
+		for _, vector := range basis {
+			if !equal(product(m, vector), make([]exact.Number, rows)) {
+				t.Fatal("a vector that is not in the kernel")
+			}
+		}
+	}
+}
+
+func TestSolve(t *testing.T) {
+	random := rand.New(rand.NewSource(2))
+	for range 400 {
+		columns := 1 + random.Intn(5)
+		rows := columns + random.Intn(3)
+		m := matrix(random, rows, columns, random.Intn(rows+1))
+		x := list(random, columns)
+		got, single := Solve(m, product(m, x))
+		if single != (Reduced(m).Rank() == columns) || single && !equal(got, x) || !single && got != nil {
+			t.Fatalf("Solve: got %v, %v", got, single)
+		}
+	}
+	two := [][]exact.Number{{exact.Of(1, 1)}, {exact.Of(2, 1)}}
+	if _, single := Solve(two, []exact.Number{exact.Of(1, 1), exact.Of(1, 1)}); single {
+		t.Error("Solve of contradictory equations")
+	}
+}
+
+func TestArgumentsAreKept(t *testing.T) {
+	random := rand.New(rand.NewSource(3))
+	m := matrix(random, 4, 4, 4)
+	before := make([][]exact.Number, len(m))
+	for i, row := range m {
+		before[i] = append(before[i], row...)
+	}
+	Reduced(m)
+	Kernel(m)
+	Solve(m, list(random, 4))
+	for i, row := range m {
+		if !equal(row, before[i]) {
+			t.Errorf("row %d was changed", i)
+		}
+	}
+}
+
+func TestEmpty(t *testing.T) {
+	if _, single := Solve(nil, nil); single {
+		t.Error("Solve without equations")
+	}
+	if x, single := Solve([][]exact.Number{{}}, make([]exact.Number, 1)); !single || len(x) != 0 {
+		t.Error("Solve without unknowns")
+	}
+	if _, single := Solve([][]exact.Number{{}}, []exact.Number{exact.Of(1, 1)}); single {
+		t.Error("Solve of 0 = 1")
+	}
+	if Reduced(nil).Rank() != 0 || Kernel(nil) != nil || Transposed(nil) != nil || Product(nil, nil).Sign() != 0 {
+		t.Error("results for an empty matrix")
+	}
+}
+
+func TestTransposed(t *testing.T) {
+	random := rand.New(rand.NewSource(4))
+	m := matrix(random, 3, 5, 3)
+	columns := Transposed(m)
+	for i, row := range m {
+		for j, x := range row {
+			if columns[j][i].Compare(x) != 0 {
+				t.Errorf("row %d, column %d", i, j)
+			}
+		}
+	}
+}

@@ -1,0 +1,99 @@
+package number
+
+import (
+	"lenslet/api"
+	"lenslet/exact"
+	"lenslet/linear"
+)
+
+// checkCount returns the error of a number of rows or columns, or OK.
+func checkCount(n int) api.Errno {
+	switch {
+	case n == 0:
+		return api.ErrEmpty
+	case n > api.MaxSlopes:
+		return api.ErrMany
+	}
+	return api.OK
+}
+
+// readMatrix returns the numbers of a matrix, or its first error.
+func readMatrix(m [][]api.Rat) ([][]exact.Number, api.Errno) {
+	if e := checkCount(len(m)); e != api.OK {
+		return nil, e
+	}
+	return converted(m, func(row []api.Rat) ([]exact.Number, api.Errno) {
+		e := checkCount(len(row))
+		if e == api.OK && len(row) != len(m[0]) {
+			e = api.ErrShape
+		}
+		if e != api.OK {
+			return nil, e
+		}
+		return converted(row, exact.Parse)
+	})
+}
+
+// writeList returns the strings of numbers, or ErrLarge.
+func writeList(list []exact.Number) ([]api.Rat, api.Errno) {
+	return converted(list, exact.Number.Rat)
+}
+
+// CheckMatrix returns the first error of a matrix, or OK.
+func CheckMatrix(m [][]api.Rat) api.Errno {
+	_, e := readMatrix(m)
+	return e
+}
+
+// Multiply returns the product of two matrices.
+func Multiply(a, b [][]api.Rat) ([][]api.Rat, api.Errno) {
+	x, wrongA := readMatrix(a)
+	y, wrongB := readMatrix(b)
+	if e := first(wrongA, wrongB); e != api.OK {
+		return nil, e
+	}
+	if len(x[0]) != len(y) {
+		return nil, api.ErrShape
+	}
+	columns := linear.Transposed(y)
+	return converted(x, func(row []exact.Number) ([]api.Rat, api.Errno) {
+		return converted(columns, func(column []exact.Number) (api.Rat, api.Errno) {
+			return linear.Product(row, column).Rat()
+		})
+	})
+}
+
+// Solve returns the only solution of linear equations.
+func Solve(m [][]api.Rat, b []api.Rat) ([]api.Rat, api.Errno) {
+	x, wrongM := readMatrix(m)
+	right, wrongB := converted(b, exact.Parse)
+	if e := first(wrongM, wrongB); e != api.OK {
+		return nil, e
+	}
+	if len(right) != len(x) {
+		return nil, api.ErrShape
+	}
+	solution, single := linear.Solve(x, right)
+	if !single {
+		return nil, api.ErrSingular
+	}
+	return writeList(solution)
+}
+
+// Kernel returns the basis of the kernel of a matrix, in reduced echelon form.
+func Kernel(m [][]api.Rat) ([][]api.Rat, api.Errno) {
+	x, e := readMatrix(m)
+	if e != api.OK {
+		return nil, e
+	}
+	return converted(linear.Kernel(x), writeList)
+}
+
+// Rank returns the rank of a matrix.
+func Rank(m [][]api.Rat) (int, api.Errno) {
+	x, e := readMatrix(m)
+	if e != api.OK {
+		return 0, e
+	}
+	return linear.Reduced(x).Rank(), api.OK
+}
