@@ -19,7 +19,7 @@ type Echelon struct {
 func Reduced(m [][]exact.Number) Echelon {
 	e := Echelon{rows: make([][]whole.Int, len(m)), pivot: whole.Of(1)}
 	for i, row := range m {
-		e.rows[i] = withoutFractions(row)
+		e.rows[i], _ = withoutFractions(row)
 	}
 	if len(m) == 0 {
 		return e
@@ -31,22 +31,32 @@ func Reduced(m [][]exact.Number) Echelon {
 	return e
 }
 
-// withoutFractions returns the smallest multiple of a row that consists of integers.
-func withoutFractions(row []exact.Number) []whole.Int {
+// withoutFractions returns the smallest multiple of a row that consists of integers, and the
+// factor that makes it the row again.
+func withoutFractions(row []exact.Number) ([]whole.Int, exact.Number) {
 	common := whole.Of(1)
 	for _, x := range row {
 		common = common.Mul(x.Below().Quo(whole.Divisor(common, x.Below())))
 	}
-	var content whole.Int
 	integers := make([]whole.Int, len(row))
 	for i, x := range row {
 		integers[i] = x.Above().Mul(common.Quo(x.Below()))
-		content = whole.Divisor(content, integers[i])
 	}
+	content := primitive(integers)
+	return integers, exact.New(content, common)
+}
+
+// primitive divides integers by their greatest common divisor, and returns it; it is 1 if all are 0.
+func primitive(integers []whole.Int) whole.Int {
+	var content whole.Int
+	for _, x := range integers {
+		content = whole.Divisor(content, x)
+	}
+	content = orOne(content)
 	for i, x := range integers {
-		integers[i] = x.Quo(orOne(content))
+		integers[i] = x.Quo(content)
 	}
-	return integers
+	return content
 }
 
 // orOne returns an integer that is at least 0, and 1 for 0.
@@ -175,6 +185,53 @@ func Transposed(m [][]exact.Number) [][]exact.Number {
 // Product returns the sum of the products of the elements of two lists of the same length.
 func Product(a, b []exact.Number) exact.Number {
 	var sum exact.Number
+	for i, x := range a {
+		sum = sum.Add(x.Mul(b[i]))
+	}
+	return sum
+}
+
+// Orthogonal returns each row less its projections on the results of the rows before it, and
+// whether none of them is 0.
+func Orthogonal(m [][]exact.Number) ([][]exact.Number, bool) {
+	results := make([][]exact.Number, len(m))
+	// A projection depends only on the direction of a vector. Directions are vectors of integers,
+	// without the common divisors that would make exact numbers slow.
+	var directions [][]whole.Int
+	for k, row := range m {
+		integers, scale := withoutFractions(row)
+		direction := integers
+		for _, before := range directions {
+			direction = upright(direction, before)
+		}
+		square := integerProduct(direction, direction)
+		if square.Sign() == 0 {
+			return nil, false
+		}
+		directions = append(directions, direction)
+		scale = scale.Mul(exact.New(integerProduct(integers, direction), square))
+		results[k] = make([]exact.Number, len(row))
+		for i, x := range direction {
+			results[k][i] = scale.Mul(exact.Whole(x))
+		}
+	}
+	return results, true
+}
+
+// upright returns the direction of a vector less its projection on another one.
+func upright(v, base []whole.Int) []whole.Int {
+	along, square := integerProduct(v, base), integerProduct(base, base)
+	rest := make([]whole.Int, len(v))
+	for i, x := range v {
+		rest[i] = x.Mul(square).Sub(base[i].Mul(along))
+	}
+	primitive(rest)
+	return rest
+}
+
+// integerProduct returns the sum of the products of the elements of two lists of the same length.
+func integerProduct(a, b []whole.Int) whole.Int {
+	var sum whole.Int
 	for i, x := range a {
 		sum = sum.Add(x.Mul(b[i]))
 	}

@@ -148,3 +148,34 @@ func TestTransposed(t *testing.T) {
 		}
 	}
 }
+
+func TestOrthogonal(t *testing.T) {
+	random := rand.New(rand.NewSource(5))
+	for range 400 {
+		rows, columns := 1+random.Intn(5), 1+random.Intn(6)
+		m := matrix(random, rows, columns, random.Intn(rows+1))
+		results, independent := Orthogonal(m)
+		if independent != (Reduced(m).Rank() == rows) || !independent && results != nil {
+			t.Fatalf("Orthogonal: independent is %v", independent)
+		}
+		for i, row := range results {
+			rest := row
+			for k, before := range results[:i] {
+				if Product(row, before).Sign() != 0 {
+					t.Fatalf("rows %d and %d are not orthogonal", i, k)
+				}
+				factor := Product(m[i], before).Quo(Product(before, before))
+				rest = append([]exact.Number{}, rest...)
+				for j, x := range before {
+					rest[j] = rest[j].Add(x.Mul(factor))
+				}
+			}
+			if !equal(rest, m[i]) {
+				t.Fatalf("row %d is not the given one less its projections", i)
+			}
+		}
+	}
+	if results, independent := Orthogonal(nil); !independent || len(results) != 0 {
+		t.Error("Orthogonal without rows")
+	}
+}

@@ -1,6 +1,9 @@
 package number
 
-import "lenslet/api"
+import (
+	"lenslet/api"
+	"lenslet/check"
+)
 
 // rectangle is a box whose ends may have any number of digits.
 type rectangle struct {
@@ -17,7 +20,7 @@ func readBox(b api.Box) (rectangle, api.Errno) {
 func (r rectangle) box() (api.Box, api.Errno) {
 	re, wrongRe := r.re.span()
 	im, wrongIm := r.im.span()
-	if e := first(wrongRe, wrongIm); e != api.OK {
+	if e := check.First(wrongRe, wrongIm); e != api.OK {
 		return api.Box{}, e
 	}
 	return api.Box{Re: re, Im: im}, api.OK
@@ -27,7 +30,7 @@ func (r rectangle) box() (api.Box, api.Errno) {
 func operateOnBoxes(a, b api.Box, operation func(x, y rectangle) rectangle) (api.Box, api.Errno) {
 	x, wrongA := readBox(a)
 	y, wrongB := readBox(b)
-	if e := first(wrongA, wrongB); e != api.OK {
+	if e := check.First(wrongA, wrongB); e != api.OK {
 		return api.Box{}, e
 	}
 	return operation(x, y).box()
@@ -80,7 +83,7 @@ func Norm(a api.Box) (api.Span, api.Errno) {
 func Turn(turn api.Rat, decimals int) (api.Box, api.Errno) {
 	re, wrongRe := Cos(turn, decimals)
 	im, wrongIm := Sin(turn, decimals)
-	if e := first(wrongRe, wrongIm); e != api.OK {
+	if e := check.First(wrongRe, wrongIm); e != api.OK {
 		return api.Box{}, e
 	}
 	return api.Box{Re: re, Im: im}, api.OK

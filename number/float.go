@@ -4,6 +4,7 @@ import (
 	"math"
 
 	"lenslet/api"
+	"lenslet/check"
 	"lenslet/exact"
 	"lenslet/whole"
 )
@@ -83,6 +84,6 @@ func CheckSamples(l []float32) api.Errno {
 	if len(l) > api.MaxSamples {
 		return api.ErrMany
 	}
-	_, e := converted(l, sample)
+	_, e := check.Each(l, sample)
 	return e
 }

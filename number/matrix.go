@@ -2,6 +2,7 @@ package number
 
 import (
 	"lenslet/api"
+	"lenslet/check"
 	"lenslet/exact"
 	"lenslet/linear"
 )
@@ -22,7 +23,7 @@ func readMatrix(m [][]api.Rat) ([][]exact.Number, api.Errno) {
 	if e := checkCount(len(m)); e != api.OK {
 		return nil, e
 	}
-	return converted(m, func(row []api.Rat) ([]exact.Number, api.Errno) {
+	return check.Each(m, func(row []api.Rat) ([]exact.Number, api.Errno) {
 		e := checkCount(len(row))
 		if e == api.OK && len(row) != len(m[0]) {
 			e = api.ErrShape
@@ -30,13 +31,13 @@ func readMatrix(m [][]api.Rat) ([][]exact.Number, api.Errno) {
 		if e != api.OK {
 			return nil, e
 		}
-		return converted(row, exact.Parse)
+		return check.Each(row, exact.Parse)
 	})
 }
 
 // writeList returns the strings of numbers, or ErrLarge.
 func writeList(list []exact.Number) ([]api.Rat, api.Errno) {
-	return converted(list, exact.Number.Rat)
+	return check.Each(list, exact.Number.Rat)
 }
 
 // CheckMatrix returns the first error of a matrix, or OK.
@@ -49,15 +50,15 @@ func CheckMatrix(m [][]api.Rat) api.Errno {
 func Multiply(a, b [][]api.Rat) ([][]api.Rat, api.Errno) {
 	x, wrongA := readMatrix(a)
 	y, wrongB := readMatrix(b)
-	if e := first(wrongA, wrongB); e != api.OK {
+	if e := check.First(wrongA, wrongB); e != api.OK {
 		return nil, e
 	}
 	if len(x[0]) != len(y) {
 		return nil, api.ErrShape
 	}
 	columns := linear.Transposed(y)
-	return converted(x, func(row []exact.Number) ([]api.Rat, api.Errno) {
-		return converted(columns, func(column []exact.Number) (api.Rat, api.Errno) {
+	return check.Each(x, func(row []exact.Number) ([]api.Rat, api.Errno) {
+		return check.Each(columns, func(column []exact.Number) (api.Rat, api.Errno) {
 			return linear.Product(row, column).Rat()
 		})
 	})
@@ -66,8 +67,8 @@ func Multiply(a, b [][]api.Rat) ([][]api.Rat, api.Errno) {
 // Solve returns the only solution of linear equations.
 func Solve(m [][]api.Rat, b []api.Rat) ([]api.Rat, api.Errno) {
 	x, wrongM := readMatrix(m)
-	right, wrongB := converted(b, exact.Parse)
-	if e := first(wrongM, wrongB); e != api.OK {
+	right, wrongB := check.Each(b, exact.Parse)
+	if e := check.First(wrongM, wrongB); e != api.OK {
 		return nil, e
 	}
 	if len(right) != len(x) {
@@ -86,7 +87,7 @@ func Kernel(m [][]api.Rat) ([][]api.Rat, api.Errno) {
 	if e != api.OK {
 		return nil, e
 	}
-	return converted(linear.Kernel(x), writeList)
+	return check.Each(linear.Kernel(x), writeList)
 }
 
 // Rank returns the rank of a matrix.

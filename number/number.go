@@ -4,34 +4,12 @@ package number
 
 import (
 	"lenslet/api"
+	"lenslet/check"
 	"lenslet/exact"
 )
 
 // MaxDecimals is the greatest number of decimals.
 const MaxDecimals = 12
-
-// first returns the first error, or OK if there is none.
-func first(errors ...api.Errno) api.Errno {
-	for _, e := range errors {
-		if e != api.OK {
-			return e
-		}
-	}
-	return api.OK
-}
-
-// converted returns what a step makes of each element of a list, or the first error of a step.
-func converted[T, R any](list []T, step func(T) (R, api.Errno)) ([]R, api.Errno) {
-	results := make([]R, 0, len(list))
-	for _, element := range list {
-		result, e := step(element)
-		if e != api.OK {
-			return nil, e
-		}
-		results = append(results, result)
-	}
-	return results, api.OK
-}
 
 // IsName reports whether a string is a name.
 func IsName(s string) bool {
@@ -66,7 +44,7 @@ func Of(num, den int) (api.Rat, api.Errno) {
 func pair(a, b api.Rat) (exact.Number, exact.Number, api.Errno) {
 	x, wrongA := exact.Parse(a)
 	y, wrongB := exact.Parse(b)
-	return x, y, first(wrongA, wrongB)
+	return x, y, check.First(wrongA, wrongB)
 }
 
 // operate returns the result of an operation on two numbers.

@@ -2,6 +2,7 @@ package number
 
 import (
 	"lenslet/api"
+	"lenslet/check"
 	"lenslet/exact"
 	"lenslet/whole"
 )
@@ -27,7 +28,7 @@ func readSpan(s api.Span) (interval, api.Errno) {
 func (i interval) span() (api.Span, api.Errno) {
 	low, wrongLow := i.low.Rat()
 	high, wrongHigh := i.high.Rat()
-	if e := first(wrongLow, wrongHigh); e != api.OK {
+	if e := check.First(wrongLow, wrongHigh); e != api.OK {
 		return api.Span{}, e
 	}
 	return api.Span{Low: low, High: high}, api.OK
@@ -80,7 +81,7 @@ func (i interval) squared() interval {
 func pairOfSpans(a, b api.Span) (interval, interval, api.Errno) {
 	x, wrongA := readSpan(a)
 	y, wrongB := readSpan(b)
-	return x, y, first(wrongA, wrongB)
+	return x, y, check.First(wrongA, wrongB)
 }
 
 // operateOnSpans returns the result of an operation on two spans.
@@ -163,7 +164,7 @@ func Root(a api.Rat, decimals int) (api.Span, api.Errno) {
 	if e == api.OK && x.Sign() < 0 {
 		e = api.ErrRange
 	}
-	if e = first(e, checkDecimals(decimals)); e != api.OK {
+	if e = check.First(e, checkDecimals(decimals)); e != api.OK {
 		return api.Span{}, e
 	}
 	above, below := x.Above().Root(), x.Below().Root()

@@ -2,6 +2,7 @@ package number
 
 import (
 	"lenslet/api"
+	"lenslet/check"
 	"lenslet/exact"
 	"lenslet/whole"
 )
@@ -30,7 +31,7 @@ func readTurn(turn api.Rat, decimals int) (exact.Number, api.Errno) {
 	if e == api.OK && t.Below().Compare(whole.Of(api.MaxNumber)) > 0 {
 		e = api.ErrLarge
 	}
-	return t, first(e, checkDecimals(decimals))
+	return t, check.First(e, checkDecimals(decimals))
 }
 
 // exactCosine returns the cosine of a turn from 0 to 1/2 if it is a rational number, and whether it is.

@@ -1,0 +1,107 @@
+package pupil
+
+import (
+	"lenslet/api"
+	"lenslet/check"
+	"lenslet/exact"
+	"lenslet/linear"
+)
+
+// mean returns the mean of numbers, of which there is at least one.
+func mean(list []exact.Number) exact.Number {
+	return folded(list, exact.Number.Add).Quo(exact.Of(len(list), 1))
+}
+
+// readPhase returns the elements of a phase, of which there is at least one, or its first error.
+func readPhase(phase []api.Rat) ([]exact.Number, api.Errno) {
+	values, e := readVector(phase)
+	return values, check.First(e, check.If(len(phase) == 0, api.ErrEmpty))
+}
+
+// Flattened returns a phase without its piston, and the piston.
+func Flattened(phase []api.Rat) ([]api.Rat, api.Rat, api.Errno) {
+	values, e := readPhase(phase)
+	if e != api.OK {
+		return nil, "", e
+	}
+	middle := mean(values)
+	piston, e := middle.Rat()
+	if e != api.OK {
+		return nil, "", e
+	}
+	flat, e := check.Each(values, func(x exact.Number) (api.Rat, api.Errno) { return x.Sub(middle).Rat() })
+	if e != api.OK {
+		return nil, "", e
+	}
+	return flat, piston, api.OK
+}
+
+// Variance returns the variance of a phase.
+func Variance(phase []api.Rat) (api.Rat, api.Errno) {
+	values, e := readPhase(phase)
+	if e != api.OK {
+		return "", e
+	}
+	middle := mean(values)
+	squares := linear.Product(values, values).Quo(exact.Of(len(values), 1))
+	return squares.Sub(middle.Mul(middle)).Rat()
+}
+
+// square is a square of cells.
+type square struct {
+	corner cell
+	side   int
+}
+
+// has reports whether a cell is in the square.
+func (s square) has(c cell) bool {
+	right, up := c.column-s.corner.column, c.row-s.corner.row
+	return right >= 0 && right < s.side && up >= 0 && up < s.side
+}
+
+// checkSquare returns the first error of a corner and a side on a grid of a size, or OK.
+func checkSquare(corner [2]int, side, size int) api.Errno {
+	return check.First(
+		check.If(corner[0] < 0 || corner[0] >= size, api.ErrRange),
+		check.If(corner[1] < 0 || corner[1] >= size, api.ErrRange),
+		check.If(side < 1 || side > size-max(corner[0], corner[1]), api.ErrRange),
+	)
+}
+
+// meanOver returns the mean of the values of a polynomial at the centres of cells. The means of its
+// products of powers have small denominators, so that the large numbers are added only once.
+func (d disc) meanOver(cells []cell, f polynomial) exact.Number {
+	parts := make([]exact.Number, len(f))
+	for k, t := range f {
+		parts[k] = t.c.Mul(mean(d.sampled(monomial(1, t.at.x, t.at.y), cells)))
+	}
+	return folded(parts, exact.Number.Add)
+}
+
+// Slopes returns the mean slopes of a polynomial over the cells in the pupil of a square of cells.
+func Slopes(p Pupil, f Poly, corner [2]int, side int) ([2]api.Rat, api.Errno) {
+	d, wrongPupil := readPupil(p)
+	terms, wrongPoly := readPoly(f)
+	if e := check.First(wrongPupil, wrongPoly, checkSquare(corner, side, p.Size)); e != api.OK {
+		return [2]api.Rat{}, e
+	}
+	var cells []cell
+	area := square{cell{corner[0], corner[1]}, side}
+	for c := range d.cells() {
+		if area.has(c) {
+			cells = append(cells, c)
+		}
+	}
+	if len(cells) == 0 {
+		return [2]api.Rat{}, api.ErrNone
+	}
+	var slopes [2]api.Rat
+	for axis, derivative := range [2]polynomial{terms.byX(), terms.byY()} {
+		slope, e := d.meanOver(cells, derivative).Rat()
+		if e != api.OK {
+			return [2]api.Rat{}, e
+		}
+		slopes[axis] = slope
+	}
+	return slopes, api.OK
+}
