@@ -5,11 +5,12 @@ import (
 	"lenslet/check"
 	"lenslet/exact"
 	"lenslet/linear"
+	"lenslet/total"
 )
 
 // mean returns the mean of numbers, of which there is at least one.
 func mean(list []exact.Number) exact.Number {
-	return folded(list, exact.Number.Add).Quo(exact.Of(len(list), 1))
+	return total.Of(list, exact.Number.Add).Quo(exact.Of(len(list), 1))
 }
 
 // readPhase returns the elements of a phase, of which there is at least one, or its first error.
@@ -75,7 +76,7 @@ func (d disc) meanOver(cells []cell, f polynomial) exact.Number {
 	for k, t := range f {
 		parts[k] = t.c.Mul(mean(d.sampled(monomial(1, t.at.x, t.at.y), cells)))
 	}
-	return folded(parts, exact.Number.Add)
+	return total.Of(parts, exact.Number.Add)
 }
 
 // Slopes returns the mean slopes of a polynomial over the cells in the pupil of a square of cells.

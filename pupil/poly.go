@@ -7,6 +7,7 @@ import (
 	"lenslet/api"
 	"lenslet/check"
 	"lenslet/exact"
+	"lenslet/total"
 )
 
 // Term is a term of a polynomial: C times X to the power of I times Y to the power of J.
@@ -108,7 +109,7 @@ func (f polynomial) at(p place) exact.Number {
 	for k, t := range f {
 		values[k] = x[t.at.x].Mul(y[t.at.y]).Mul(t.c)
 	}
-	return folded(values, exact.Number.Add)
+	return total.Of(values, exact.Number.Add)
 }
 
 // allPowers returns a number to the powers from 0 to MaxDegree.
@@ -118,15 +119,6 @@ func allPowers(a exact.Number) [MaxDegree + 1]exact.Number {
 		list[k+1] = list[k].Mul(a)
 	}
 	return list
-}
-
-// folded joins the elements of a list, from the zero value on.
-func folded[T any](list []T, join func(T, T) T) T {
-	var all T
-	for _, x := range list {
-		all = join(all, x)
-	}
-	return all
 }
 
 // byX returns the derivative by X. Its terms are in order, as each has lost one power of X.

@@ -4,6 +4,7 @@ import (
 	"lenslet/api"
 	"lenslet/check"
 	"lenslet/exact"
+	"lenslet/total"
 )
 
 var factorials = [MaxZernike + 1]int{1, 1, 2, 6, 24, 120, 720, 5040, 40320}
@@ -27,7 +28,7 @@ func radial(n, k int) polynomial {
 		parts = append(parts, power.times(monomial(c, 0, 0)))
 		power = power.times(square)
 	}
-	return folded(parts, polynomial.plus)
+	return total.Of(parts, polynomial.plus)
 }
 
 // harmonic returns the real and the imaginary part of (X + iY) to a power.
@@ -88,5 +89,5 @@ func DiscProduct(f, g Poly) (api.Rat, api.Errno) {
 	for k, t := range product {
 		integrals[k] = t.c.Mul(moment(t.at))
 	}
-	return folded(integrals, exact.Number.Add).Rat()
+	return total.Of(integrals, exact.Number.Add).Rat()
 }
