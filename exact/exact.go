@@ -58,6 +58,9 @@ func (a Number) Sign() int { return a.above.Sign() }
 // Neg returns the negated number.
 func (a Number) Neg() Number { return Number{a.above.Neg(), a.below} }
 
+// Abs returns the magnitude.
+func (a Number) Abs() Number { return Number{a.above.Abs(), a.below} }
+
 // Add returns the sum.
 func (a Number) Add(b Number) Number {
 	common := whole.Divisor(a.Below(), b.Below())
@@ -81,6 +84,9 @@ func (a Number) Mul(b Number) Number {
 	}
 }
 
+// Square returns the product of a number with itself, which has no common divisors to look for.
+func (a Number) Square() Number { return Number{a.above.Mul(a.above), a.below.Mul(a.below)} }
+
 // Quo returns the quotient; divided by 0 it is 0.
 func (a Number) Quo(b Number) Number {
 	switch b.Sign() {
@@ -97,8 +103,28 @@ func (a Number) Compare(b Number) int {
 	return a.above.Mul(b.Below()).Compare(b.above.Mul(a.Below()))
 }
 
+// Within returns the nearest number that is neither below a least one nor above a greatest one.
+func (a Number) Within(least, greatest Number) Number {
+	switch {
+	case a.Compare(least) < 0:
+		return least
+	case a.Compare(greatest) > 0:
+		return greatest
+	}
+	return a
+}
+
 // Floor returns the greatest integer that is not above a number.
 func (a Number) Floor() whole.Int { return a.above.Floor(a.Below()) }
+
+// Common returns the least common denominator of numbers, which is at least 1.
+func Common(list []Number) whole.Int {
+	common := whole.Of(1)
+	for _, x := range list {
+		common = common.Mul(x.Below().Quo(whole.Divisor(common, x.Below())))
+	}
+	return common
+}
 
 // Parse returns the number that a string stands for, or the first error of the string.
 func Parse(a api.Rat) (Number, api.Errno) {

@@ -50,7 +50,9 @@ func TestArithmetic(t *testing.T) {
 		same(t, "Sub", a.Sub(b), new(big.Rat).Sub(x, y))
 		same(t, "Sub of itself", a.Sub(a), new(big.Rat))
 		same(t, "Mul", a.Mul(b), new(big.Rat).Mul(x, y))
+		same(t, "Square", a.Square(), new(big.Rat).Mul(x, x))
 		same(t, "Neg", a.Neg(), new(big.Rat).Neg(x))
+		same(t, "Abs", a.Abs(), new(big.Rat).Abs(x))
 		if y.Sign() != 0 {
 			same(t, "Quo", a.Quo(b), new(big.Rat).Quo(x, y))
 		}
@@ -65,10 +67,34 @@ func TestArithmetic(t *testing.T) {
 	}
 }
 
+func TestWithin(t *testing.T) {
+	for n := -3; n <= 3; n++ {
+		wanted := max(-1, min(n, 2))
+		same(t, "Within", Of(n, 1).Within(Of(-1, 1), Of(2, 1)), big.NewRat(int64(wanted), 1))
+		same(t, "Within a single number", Of(n, 1).Within(Of(1, 2), Of(1, 2)), big.NewRat(1, 2))
+	}
+}
+
+func TestCommon(t *testing.T) {
+	for _, row := range []struct {
+		list   []Number
+		common string
+	}{
+		{nil, "1"},
+		{[]Number{{}, Of(7, 1)}, "1"},
+		{[]Number{Of(1, 4), Of(-5, 6), {}, Of(2, 3)}, "12"},
+		{[]Number{Of(1, 7), Of(1, 1<<62), Of(3, 1<<62)}, "32281802128991715328"},
+	} {
+		if got := Common(row.list).Text(); got != row.common {
+			t.Errorf("Common of %v: got %s, want %s", row.list, got, row.common)
+		}
+	}
+}
+
 func TestZero(t *testing.T) {
 	var zero Number
 	one := Of(1, 1)
-	for what, got := range map[string]Number{"the zero value": zero, "Add": zero.Add(zero), "Mul": one.Mul(zero), "Quo": zero.Quo(one), "Quo by 0": one.Quo(zero), "Of by 0": Of(3, 0), "New by 0": New(whole.Of(3), whole.Int{}), "Neg": zero.Neg()} {
+	for what, got := range map[string]Number{"the zero value": zero, "Add": zero.Add(zero), "Mul": one.Mul(zero), "Quo": zero.Quo(one), "Quo by 0": one.Quo(zero), "Of by 0": Of(3, 0), "New by 0": New(whole.Of(3), whole.Int{}), "Neg": zero.Neg(), "Square": zero.Square()} {
 		same(t, what, got, new(big.Rat))
 	}
 	same(t, "Add", zero.Add(one), big.NewRat(1, 1))

@@ -34,10 +34,7 @@ func Reduced(m [][]exact.Number) Echelon {
 // withoutFractions returns the smallest multiple of a row that consists of integers, and the
 // factor that makes it the row again.
 func withoutFractions(row []exact.Number) ([]whole.Int, exact.Number) {
-	common := whole.Of(1)
-	for _, x := range row {
-		common = common.Mul(x.Below().Quo(whole.Divisor(common, x.Below())))
-	}
+	common := exact.Common(row)
 	integers := make([]whole.Int, len(row))
 	for i, x := range row {
 		integers[i] = x.Above().Mul(common.Quo(x.Below()))

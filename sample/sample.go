@@ -54,10 +54,7 @@ func Nearest(a exact.Number) (float32, api.Errno) {
 	if a.Sign() == 0 {
 		return 0, api.OK
 	}
-	size := a
-	if a.Sign() < 0 {
-		size = a.Neg()
-	}
+	size := a.Abs()
 	exponent := max(leadingExponent(size)-significandBits+1, -UnitBits)
 	significand, _ := nearestInteger(scaled(size, -exponent)).Int64()
 	f := math.Ldexp(float64(significand), exponent)
