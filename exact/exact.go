@@ -103,6 +103,11 @@ func (a Number) Compare(b Number) int {
 	return a.above.Mul(b.Below()).Compare(b.above.Mul(a.Below()))
 }
 
+// Equal reports whether two numbers are the same.
+func (a Number) Equal(b Number) bool {
+	return a.above.Compare(b.above) == 0 && a.Below().Compare(b.Below()) == 0
+}
+
 // Within returns the nearest number that is neither below a least one nor above a greatest one.
 func (a Number) Within(least, greatest Number) Number {
 	switch {

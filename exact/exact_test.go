@@ -59,6 +59,9 @@ func TestArithmetic(t *testing.T) {
 		if a.Compare(b) != x.Cmp(y) || a.Compare(a) != 0 || a.Sign() != x.Sign() {
 			t.Fatalf("Compare or Sign of %v and %v", x, y)
 		}
+		if a.Equal(b) != (x.Cmp(y) == 0) || !a.Equal(a.Add(b).Sub(b)) {
+			t.Fatalf("Equal of %v and %v", x, y)
+		}
 		floor := new(big.Int).Div(x.Num(), x.Denom())
 		same(t, "Floor", Whole(a.Floor()), new(big.Rat).SetInt(floor))
 		if a.Above().Text() != x.Num().String() || a.Below().Text() != x.Denom().String() {
@@ -99,6 +102,9 @@ func TestZero(t *testing.T) {
 	}
 	same(t, "Add", zero.Add(one), big.NewRat(1, 1))
 	same(t, "Of", Of(6, -4), big.NewRat(-3, 2))
+	if !zero.Equal(Of(0, 5)) || !zero.Equal(one.Sub(one)) || zero.Equal(one) || Of(1, 2).Equal(Of(1, 3)) {
+		t.Error("Equal of simple numbers")
+	}
 	if zero.Compare(one) != -1 || one.Compare(zero) != 1 || zero.Below().Text() != "1" {
 		t.Error("Compare or Below of the zero value")
 	}

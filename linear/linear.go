@@ -3,7 +3,11 @@
 package linear
 
 import (
+	"iter"
+	"slices"
+
 	"lenslet/exact"
+	"lenslet/total"
 	"lenslet/whole"
 )
 
@@ -24,8 +28,14 @@ func Reduced(m [][]exact.Number) Echelon {
 	if len(m) == 0 {
 		return e
 	}
+columns:
 	for column := range m[0] {
-		e.eliminate(column)
+		for row := len(e.pivots); row < len(e.rows); row++ {
+			if e.rows[row][column].Sign() != 0 {
+				e.eliminate(row, column)
+				continue columns
+			}
+		}
 	}
 	e.rows = e.rows[:len(e.pivots)]
 	return e
@@ -64,18 +74,11 @@ func orOne(a whole.Int) whole.Int {
 	return a
 }
 
-// eliminate makes a column the next one with a pivot, if a row is left that is not 0 there. All
-// numbers remain integers, minors of the matrix (Bareiss), so that they stay small.
-func (e *Echelon) eliminate(column int) {
+// eliminate makes a column the next one with a pivot, from a row without one that is not 0 there.
+// All numbers remain integers, minors of the matrix (Bareiss), so that they stay small.
+func (e *Echelon) eliminate(from, column int) {
 	next := len(e.pivots)
-	found := next
-	for found < len(e.rows) && e.rows[found][column].Sign() == 0 {
-		found++
-	}
-	if found == len(e.rows) {
-		return
-	}
-	e.rows[next], e.rows[found] = e.rows[found], e.rows[next]
+	e.rows[next], e.rows[from] = e.rows[from], e.rows[next]
 	base := make([]whole.Int, len(e.rows[next]))
 	copy(base, e.rows[next])
 	combine := func(row []whole.Int) []whole.Int {
@@ -102,29 +105,50 @@ func (e Echelon) At(row, column int) exact.Number {
 	return exact.New(e.rows[row][column], e.pivot)
 }
 
-// Solve returns the only list whose product with a matrix is the right side, which has a number
-// for each row, and whether there is exactly one.
-func Solve(m [][]exact.Number, right []exact.Number) ([]exact.Number, bool) {
+// Rows returns the rows of the reduced echelon form, in which the pivots are 1.
+func (e Echelon) Rows() [][]exact.Number {
+	rows := make([][]exact.Number, e.Rank())
+	for i := range e.Rank() {
+		rows[i] = make([]exact.Number, len(e.rows[i]))
+		for j := range rows[i] {
+			rows[i][j] = e.At(i, j)
+		}
+	}
+	return rows
+}
+
+// Quotient returns the only matrix that a matrix, as the left factor, makes the right side, which
+// has as many rows, and whether there is exactly one.
+func Quotient(m, right [][]exact.Number) ([][]exact.Number, bool) {
 	if len(m) == 0 {
 		return nil, false
 	}
-	columns := len(m[0])
+	unknowns := len(m[0])
 	joined := make([][]exact.Number, len(m))
 	for i, row := range m {
-		joined[i] = make([]exact.Number, columns+1)
-		copy(joined[i], row)
-		joined[i][columns] = right[i]
+		joined[i] = slices.Concat(row, right[i])
 	}
 	e := Reduced(joined)
-	// A pivot in the last column is an equation 0 = 1.
-	if e.Rank() != columns || columns > 0 && e.pivots[columns-1] == columns {
+	// A pivot in a column of the right side is an equation 0 = 1.
+	if e.Rank() != unknowns || unknowns > 0 && e.pivots[unknowns-1] >= unknowns {
 		return nil, false
 	}
-	solution := make([]exact.Number, columns)
-	for i := range solution {
-		solution[i] = e.At(i, columns)
+	solution := make([][]exact.Number, unknowns)
+	for i, row := range e.Rows() {
+		solution[i] = row[unknowns:]
 	}
 	return solution, true
+}
+
+// Solve returns the only list whose product with a matrix is the right side, which has a number
+// for each row, and whether there is exactly one.
+func Solve(m [][]exact.Number, right []exact.Number) ([]exact.Number, bool) {
+	column := Transposed([][]exact.Number{right})
+	rows, single := Quotient(m, column)
+	if !single {
+		return nil, false
+	}
+	return slices.Concat(rows...), true
 }
 
 // Kernel returns the basis, in reduced echelon form, of the lists whose product with a matrix is 0.
@@ -164,28 +188,47 @@ func Kernel(m [][]exact.Number) [][]exact.Number {
 	return basis
 }
 
-// Transposed returns a matrix with rows and columns exchanged.
-func Transposed(m [][]exact.Number) [][]exact.Number {
-	if len(m) == 0 {
-		return nil
-	}
-	columns := make([][]exact.Number, len(m[0]))
-	for j := range columns {
-		columns[j] = make([]exact.Number, len(m))
-		for i, row := range m {
-			columns[j][i] = row[j]
+// Columns visits the columns of a matrix, with their numbers.
+func Columns[T any](m [][]T) iter.Seq2[int, []T] {
+	return func(yield func(int, []T) bool) {
+		if len(m) == 0 {
+			return
 		}
+		for j := range m[0] {
+			column := make([]T, len(m))
+			for i, row := range m {
+				column[i] = row[j]
+			}
+			if !yield(j, column) {
+				return
+			}
+		}
+	}
+}
+
+// Transposed returns a matrix with rows and columns exchanged.
+func Transposed[T any](m [][]T) [][]T {
+	var columns [][]T
+	for _, column := range Columns(m) {
+		columns = append(columns, column)
 	}
 	return columns
 }
 
 // Product returns the sum of the products of the elements of two lists of the same length.
 func Product(a, b []exact.Number) exact.Number {
-	var sum exact.Number
-	for i, x := range a {
-		sum = sum.Add(x.Mul(b[i]))
+	return total.Products(a, b, exact.Number.Mul, exact.Number.Add)
+}
+
+// Multiply returns the product of two matrices.
+func Multiply(a, b [][]exact.Number) [][]exact.Number {
+	product := make([][]exact.Number, len(a))
+	for _, column := range Columns(b) {
+		for i, row := range a {
+			product[i] = append(product[i], Product(row, column))
+		}
 	}
-	return sum
+	return product
 }
 
 // Orthogonal returns each row less its projections on the results of the rows before it, and
@@ -228,9 +271,5 @@ func upright(v, base []whole.Int) []whole.Int {
 
 // integerProduct returns the sum of the products of the elements of two lists of the same length.
 func integerProduct(a, b []whole.Int) whole.Int {
-	var sum whole.Int
-	for i, x := range a {
-		sum = sum.Add(x.Mul(b[i]))
-	}
-	return sum
+	return total.Products(a, b, whole.Int.Mul, whole.Int.Add)
 }

@@ -74,6 +74,16 @@ func TestReducedAndKernel(t *testing.T) {
 				}
 			}
 		}
+		if len(e.Rows()) != e.Rank() {
+			t.Fatalf("%d rows for the rank %d", len(e.Rows()), e.Rank())
+		}
+		for i, row := range e.Rows() {
+			for j, x := range row {
+				if len(row) != columns || !x.Equal(e.At(i, j)) {
+					t.Fatalf("row %d, column %d of the echelon form", i, j)
+				}
+			}
+		}
 		basis := Kernel(m)
 		if len(basis)+e.Rank() != columns {
 			t.Fatalf("%d vectors for the rank %d of %d columns", len(basis), e.Rank(), columns)
@@ -104,6 +114,48 @@ func TestSolve(t *testing.T) {
 	}
 }
 
+func TestQuotient(t *testing.T) {
+	random := rand.New(rand.NewSource(6))
+	for range 400 {
+		columns := 1 + random.Intn(5)
+		rows := columns + random.Intn(3)
+		m := matrix(random, rows, columns, random.Intn(rows+1))
+		x := matrix(random, columns, 1+random.Intn(4), columns)
+		right := Multiply(m, x)
+		got, single := Quotient(m, right)
+		if single != (Reduced(m).Rank() == columns) || !single && got != nil {
+			t.Fatalf("Quotient: got %v, %v", got, single)
+		}
+		for i, row := range got {
+			if !equal(row, x[i]) {
+				t.Fatalf("Quotient: row %d is %v", i, row)
+			}
+		}
+		last := len(right[0]) - 1
+		right[0][last] = right[0][last].Add(exact.Of(1, 1))
+		got, single = Quotient(m, right)
+		for i, row := range Multiply(m, got) {
+			if single && !equal(row, right[i]) {
+				t.Fatal("Quotient of contradictory equations")
+			}
+		}
+	}
+}
+
+func TestMultiply(t *testing.T) {
+	random := rand.New(rand.NewSource(7))
+	m, x := matrix(random, 3, 4, 3), list(random, 4)
+	rows := Multiply(m, Transposed([][]exact.Number{x, m[1]}))
+	for i, row := range rows {
+		if !equal(row, []exact.Number{Product(m[i], x), Product(m[i], m[1])}) {
+			t.Errorf("row %d of the product", i)
+		}
+	}
+	if len(rows) != len(m) {
+		t.Errorf("%d rows", len(rows))
+	}
+}
+
 func TestArgumentsAreKept(t *testing.T) {
 	random := rand.New(rand.NewSource(3))
 	m := matrix(random, 4, 4, 4)
@@ -114,6 +166,8 @@ func TestArgumentsAreKept(t *testing.T) {
 	Reduced(m)
 	Kernel(m)
 	Solve(m, list(random, 4))
+	Quotient(m, m)
+	Multiply(m, m)
 	for i, row := range m {
 		if !equal(row, before[i]) {
 			t.Errorf("row %d was changed", i)
@@ -131,7 +185,7 @@ func TestEmpty(t *testing.T) {
 	if _, single := Solve([][]exact.Number{{}}, []exact.Number{exact.Of(1, 1)}); single {
 		t.Error("Solve of 0 = 1")
 	}
-	if Reduced(nil).Rank() != 0 || Kernel(nil) != nil || Transposed(nil) != nil || Product(nil, nil).Sign() != 0 {
+	if Reduced(nil).Rank() != 0 || Kernel(nil) != nil || Transposed[int](nil) != nil || Product(nil, nil).Sign() != 0 {
 		t.Error("results for an empty matrix")
 	}
 }
@@ -145,6 +199,17 @@ func TestTransposed(t *testing.T) {
 			if columns[j][i].Compare(x) != 0 {
 				t.Errorf("row %d, column %d", i, j)
 			}
+		}
+	}
+	for j, column := range Columns(m) {
+		if j > 2 {
+			t.Error("a column after the end of the loop")
+		}
+		if !equal(column, columns[j]) {
+			t.Errorf("column %d", j)
+		}
+		if j == 2 {
+			break
 		}
 	}
 }

@@ -15,3 +15,14 @@ func TestOf(t *testing.T) {
 		t.Errorf("got %q, want the zero value", got)
 	}
 }
+
+func TestProducts(t *testing.T) {
+	times := func(a, b string) string { return a + b }
+	plus := func(a, b string) string { return a + "+" + b }
+	if got := total.Products([]string{"a", "b"}, []string{"c", "d"}, times, plus); got != "+ac+bd" {
+		t.Errorf("got %q, want the products in their order", got)
+	}
+	if got := total.Products(nil, nil, times, plus); got != "" {
+		t.Errorf("got %q, want the zero value", got)
+	}
+}
