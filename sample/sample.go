@@ -1,4 +1,4 @@
-// Package sample reads and makes float32 samples exactly.
+// Package sample reads and makes float32 samples and float64 numbers exactly.
 package sample
 
 import (
@@ -20,6 +20,13 @@ const (
 
 // UnitBits is the number of halvings that make the unit of samples, the least float, of 1.
 const UnitBits = 149
+
+// The form of a float64, as that of a float32.
+const (
+	doubleBits     = 53
+	doubleUnitBits = 1074
+	doubleExponent = 1024
+)
 
 // Units returns a sample as a multiple of the least float, or ErrForm for a NaN or an infinity.
 func Units(f float32) (whole.Int, api.Errno) {
@@ -51,11 +58,33 @@ func scaled(a exact.Number, exponent int) exact.Number {
 
 // Nearest returns the nearest float32 to a number, or ErrLarge if it would be too large.
 func Nearest(a exact.Number) (float32, api.Errno) {
+	f, e := nearest(a, significandBits, UnitBits, endExponent)
+	return float32(f), e
+}
+
+// Double returns the exact value of a float64, or ErrForm for a NaN or an infinity.
+func Double(f float64) (exact.Number, api.Errno) {
+	if math.IsNaN(f) || math.IsInf(f, 0) {
+		return exact.Number{}, api.ErrForm
+	}
+	fraction, exponent := math.Frexp(f)
+	significand := int(math.Ldexp(fraction, doubleBits))
+	return scaled(exact.Of(significand, 1), exponent-doubleBits), api.OK
+}
+
+// NearestDouble returns the nearest float64 to a number, or ErrLarge if it would be too large.
+func NearestDouble(a exact.Number) (float64, api.Errno) {
+	return nearest(a, doubleBits, doubleUnitBits, doubleExponent)
+}
+
+// nearest returns the nearest float to a number, of those whose significand and whose unit have so
+// many bits, and which are below 2 to the power of an exponent.
+func nearest(a exact.Number, significandBits, unitBits, endExponent int) (float64, api.Errno) {
 	if a.Sign() == 0 {
 		return 0, api.OK
 	}
 	size := a.Abs()
-	exponent := max(leadingExponent(size)-significandBits+1, -UnitBits)
+	exponent := max(leadingExponent(size)-significandBits+1, -unitBits)
 	significand, _ := nearestInteger(scaled(size, -exponent)).Int64()
 	f := math.Ldexp(float64(significand), exponent)
 	switch {
@@ -64,7 +93,7 @@ func Nearest(a exact.Number) (float32, api.Errno) {
 	case a.Sign() < 0 && f > 0: // no result is -0
 		f = -f
 	}
-	return float32(f), api.OK
+	return f, api.OK
 }
 
 // leadingExponent returns the exponent of the greatest power of 2 that is not above a number above 0.

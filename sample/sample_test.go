@@ -98,3 +98,64 @@ func TestNearestAtTheEnd(t *testing.T) {
 		}
 	}
 }
+
+// doubles are float64 numbers at the ends of the subnormal and the normal ones, and random ones.
+func doubles() []float64 {
+	random := rand.New(rand.NewSource(2))
+	list := []float64{0, math.SmallestNonzeroFloat64, math.MaxFloat64, -math.MaxFloat64, 1, 2.5, -3, 0.1}
+	for _, bits := range []uint64{2, 3, 1<<52 - 1, 1 << 52, 1<<52 + 1, 1<<53 - 1, 1 << 53, 1<<63 + 1} {
+		list = append(list, math.Float64frombits(bits))
+	}
+	for len(list) < 1000 {
+		if f := math.Float64frombits(random.Uint64()); f-f == 0 {
+			list = append(list, f)
+		}
+	}
+	return list
+}
+
+func TestDouble(t *testing.T) {
+	for _, f := range doubles() {
+		got, e := sample.Double(f)
+		if wanted := number(new(big.Rat).SetFloat64(f)); e != api.OK || !got.Equal(wanted) {
+			t.Errorf("%v: got %v, error %d", f, got, e)
+		}
+	}
+	if got, e := sample.Double(math.Copysign(0, -1)); e != api.OK || got.Sign() != 0 {
+		t.Errorf("-0: got %v, error %d", got, e)
+	}
+	for _, f := range []float64{math.NaN(), math.Inf(1), math.Inf(-1)} {
+		if got, e := sample.Double(f); e != api.ErrForm || got.Sign() != 0 {
+			t.Errorf("%v: got %v, error %d", f, got, e)
+		}
+	}
+}
+
+// TestNearestDouble has floats, the middles between neighbours, and numbers beside both.
+func TestNearestDouble(t *testing.T) {
+	beside := new(big.Rat).SetFrac(big.NewInt(1), new(big.Int).Exp(big.NewInt(10), big.NewInt(1000), nil))
+	for _, f := range doubles() {
+		near := new(big.Rat).SetFloat64(f)
+		middle := new(big.Rat).Add(near, new(big.Rat).SetFloat64(math.Nextafter(f, 0)))
+		middle.Quo(middle, big.NewRat(2, 1))
+		for _, x := range []*big.Rat{near, middle} {
+			for _, y := range []*big.Rat{x, new(big.Rat).Add(x, beside), new(big.Rat).Sub(x, beside)} {
+				wanted, _ := y.Float64()
+				got, e := sample.NearestDouble(number(y))
+				if e != api.OK || got != wanted || got == 0 && math.Signbit(got) {
+					t.Errorf("beside %v: got %v, error %d, want %v", f, got, e, wanted)
+				}
+			}
+		}
+	}
+	// The middle between the greatest float and 2^1024, which is the nearest even one.
+	end := new(big.Rat).SetInt(new(big.Int).Sub(new(big.Int).Lsh(big.NewInt(1), 1024), new(big.Int).Lsh(big.NewInt(1), 970)))
+	for _, x := range []*big.Rat{end, new(big.Rat).Neg(end), new(big.Rat).Mul(end, end)} {
+		if f, e := sample.NearestDouble(number(x)); e != api.ErrLarge || f != 0 {
+			t.Errorf("got %v, error %d", f, e)
+		}
+	}
+	if f, e := sample.NearestDouble(number(new(big.Rat).Sub(end, beside))); e != api.OK || f != math.MaxFloat64 {
+		t.Errorf("got %v, error %d", f, e)
+	}
+}
