@@ -155,6 +155,27 @@ func Parse(a api.Rat) (Number, api.Errno) {
 	return Number{above, below}, api.OK
 }
 
+// ParseUnsigned returns the number that a string stands for, or its first error: that of Parse, then
+// ErrRange for a number below 0.
+func ParseUnsigned(a api.Rat) (Number, api.Errno) { return parseSigned(a, 0) }
+
+// ParsePositive returns the number that a string stands for, or its first error: that of Parse, then
+// ErrRange for a number that is not above 0.
+func ParsePositive(a api.Rat) (Number, api.Errno) { return parseSigned(a, 1) }
+
+// parseSigned returns the number that a string stands for, or its first error: that of Parse, then
+// ErrRange for a number whose sign is below a least one.
+func parseSigned(a api.Rat, least int) (Number, api.Errno) {
+	x, e := Parse(a)
+	switch {
+	case e != api.OK:
+		return Number{}, e
+	case x.Sign() < least:
+		return Number{}, api.ErrRange
+	}
+	return x, api.OK
+}
+
 // maxBits is the number of binary digits of the greatest integer with api.MaxDigits digits.
 const maxBits = 1994
 

@@ -136,3 +136,29 @@ func TestDigits(t *testing.T) {
 		t.Error("Parse of too many digits")
 	}
 }
+
+func TestParseSigned(t *testing.T) {
+	long := api.Rat(strings.Repeat("9", api.MaxDigits+1))
+	for _, row := range []struct {
+		a                  api.Rat
+		unsigned, positive api.Errno
+	}{
+		{"7/2", api.OK, api.OK},
+		{"0", api.OK, api.ErrRange},
+		{"-1/9", api.ErrRange, api.ErrRange},
+		{"", api.ErrForm, api.ErrForm},
+		{"-" + long, api.ErrLarge, api.ErrLarge},
+		{"-2/4", api.ErrForm, api.ErrForm},
+	} {
+		for _, read := range []struct {
+			what   string
+			parse  func(api.Rat) (Number, api.Errno)
+			wanted api.Errno
+		}{{"ParseUnsigned", ParseUnsigned, row.unsigned}, {"ParsePositive", ParsePositive, row.positive}} {
+			x, e := read.parse(row.a)
+			if s, _ := x.Rat(); e != read.wanted || e == api.OK && s != row.a || e != api.OK && s != "0" {
+				t.Errorf("%s of %s: got %s, %d, want %d", read.what, row.a, s, e, read.wanted)
+			}
+		}
+	}
+}

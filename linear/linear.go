@@ -220,6 +220,15 @@ func Product(a, b []exact.Number) exact.Number {
 	return total.Products(a, b, exact.Number.Mul, exact.Number.Add)
 }
 
+// Apply returns the product of a matrix and a list.
+func Apply(m [][]exact.Number, list []exact.Number) []exact.Number {
+	product := make([]exact.Number, len(m))
+	for i, row := range m {
+		product[i] = Product(row, list)
+	}
+	return product
+}
+
 // Multiply returns the product of two matrices.
 func Multiply(a, b [][]exact.Number) [][]exact.Number {
 	product := make([][]exact.Number, len(a))

@@ -33,15 +33,6 @@ func list(random *rand.Rand, n int) []exact.Number {
 	return l
 }
 
-// product returns the product of a matrix and a list.
-func product(m [][]exact.Number, x []exact.Number) []exact.Number {
-	var all []exact.Number
-	for _, row := range m {
-		all = append(all, Product(row, x))
-	}
-	return all
-}
-
 // equal reports whether two lists have the same numbers.
 func equal(a, b []exact.Number) bool {
 	for i, x := range a {
@@ -89,7 +80,7 @@ func TestReducedAndKernel(t *testing.T) {
 			t.Fatalf("%d vectors for the rank %d of %d columns", len(basis), e.Rank(), columns)
 		}
 		for _, vector := range basis {
-			if !equal(product(m, vector), make([]exact.Number, rows)) {
+			if !equal(Apply(m, vector), make([]exact.Number, rows)) {
 				t.Fatal("a vector that is not in the kernel")
 			}
 		}
@@ -103,7 +94,7 @@ func TestSolve(t *testing.T) {
 		rows := columns + random.Intn(3)
 		m := matrix(random, rows, columns, random.Intn(rows+1))
 		x := list(random, columns)
-		got, single := Solve(m, product(m, x))
+		got, single := Solve(m, Apply(m, x))
 		if single != (Reduced(m).Rank() == columns) || single && !equal(got, x) || !single && got != nil {
 			t.Fatalf("Solve: got %v, %v", got, single)
 		}
@@ -211,6 +202,17 @@ func TestTransposed(t *testing.T) {
 		if j == 2 {
 			break
 		}
+	}
+}
+
+func TestApply(t *testing.T) {
+	m := [][]exact.Number{{exact.Of(1, 2), exact.Of(3, 1)}, {{}, exact.Of(-1, 1)}, {exact.Of(4, 1), {}}}
+	wanted := []exact.Number{exact.Of(4, 1), exact.Of(-1, 1), exact.Of(8, 1)}
+	if got := Apply(m, []exact.Number{exact.Of(2, 1), exact.Of(1, 1)}); !equal(got, wanted) {
+		t.Errorf("Apply: %v", got)
+	}
+	if got := Apply(nil, nil); len(got) != 0 {
+		t.Errorf("Apply without rows: %v", got)
 	}
 }
 

@@ -69,7 +69,7 @@ func power(p []exact.Number, n int) []row {
 // Decay returns the norm of a power of the companion matrix of a polynomial.
 func Decay(p []api.Rat, n int) (api.Rat, api.Errno) {
 	coefficients, wrongP := readPoly(p)
-	e := check.First(wrongP, checkRange(n, 0, MaxPower), check.If(len(p) == 1, api.ErrNone))
+	e := check.First(wrongP, check.Range(n, 0, MaxPower), check.If(len(p) == 1, api.ErrNone))
 	if e != api.OK {
 		return "", e
 	}

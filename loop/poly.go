@@ -12,7 +12,7 @@ import (
 
 // readPoly returns the coefficients of a polynomial, or its first error.
 func readPoly(p []api.Rat) ([]exact.Number, api.Errno) {
-	if e := checkCount(len(p), api.MaxOrder+1); e != api.OK {
+	if e := check.Count(len(p), api.MaxOrder+1); e != api.OK {
 		return nil, e
 	}
 	numbers, e := check.Each(p, exact.Parse)

@@ -50,7 +50,7 @@ func Rejection(l Loop, turn api.Rat, decimals int) (api.Span, api.Errno) {
 	e := check.First(
 		wrongLoop,
 		wrongTurn,
-		checkRange(decimals, 1, number.MaxDecimals),
+		check.Range(decimals, 1, number.MaxDecimals),
 		check.If(t.Below().Compare(whole.Of(api.MaxNumber)) > 0, api.ErrLarge),
 	)
 	if e != api.OK {
@@ -150,7 +150,7 @@ func (r response) accepts(v value, scale exact.Number) bool {
 // Sweep returns the rejection at n frequencies.
 func Sweep(l Loop, n int) ([]complex128, api.Errno) {
 	s, e := readLoop(l)
-	e = check.First(e, checkRange(n, 1, MaxSweep))
+	e = check.First(e, check.Range(n, 1, MaxSweep))
 	switch {
 	case e != api.OK:
 		return nil, e
@@ -172,7 +172,7 @@ func Sweep(l Loop, n int) ([]complex128, api.Errno) {
 // CheckSweep returns OK if complex numbers are the rejection at as many frequencies, within the tolerance.
 func CheckSweep(l Loop, c []complex128) api.Errno {
 	s, wrongLoop := readLoop(l)
-	if e := check.First(wrongLoop, checkCount(len(c), MaxSweep)); e != api.OK {
+	if e := check.First(wrongLoop, check.Count(len(c), MaxSweep)); e != api.OK {
 		return e
 	}
 	values, e := check.Each(c, readValue)

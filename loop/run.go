@@ -17,10 +17,7 @@ type frame struct {
 
 // readRecord returns the numbers of a record, or its first error.
 func readRecord(record []api.Rat) ([]exact.Number, api.Errno) {
-	if len(record) > MaxRun {
-		return nil, api.ErrMany
-	}
-	return check.Each(record, exact.Parse)
+	return check.AtMost(record, MaxRun, exact.Parse)
 }
 
 // multiple returns a number times a multiple of its denominator.
@@ -100,7 +97,7 @@ func Run(l Loop, disturbance []api.Rat) ([]api.Rat, []api.Rat, api.Errno) {
 // Impulse returns the residuals of a closed loop after an impulse.
 func Impulse(l Loop, n int) ([]api.Rat, api.Errno) {
 	s, e := readLoop(l)
-	if e = check.First(e, checkRange(n, 0, MaxRun)); e != api.OK {
+	if e = check.First(e, check.Range(n, 0, MaxRun)); e != api.OK {
 		return nil, e
 	}
 	disturbance := make([]exact.Number, n)
@@ -124,10 +121,10 @@ func Cost(l Loop, record []api.Rat) (api.Rat, api.Errno) {
 
 // readTrials returns gains that are tried, or their first error.
 func readTrials(gains []api.Rat) ([]exact.Number, api.Errno) {
-	if e := checkCount(len(gains), MaxGains); e != api.OK {
+	if e := check.Count(len(gains), MaxGains); e != api.OK {
 		return nil, e
 	}
-	return check.Each(gains, readUnsigned)
+	return check.Each(gains, exact.ParseUnsigned)
 }
 
 // Best returns the gain with the least sum of squared residuals, and this sum.

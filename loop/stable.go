@@ -219,7 +219,7 @@ func radius(p []exact.Number, decimals int) (api.Span, api.Errno) {
 // Radius returns a span with the greatest magnitude of the roots of a polynomial.
 func Radius(p []api.Rat, decimals int) (api.Span, api.Errno) {
 	coefficients, wrongP := readPoly(p)
-	e := check.First(wrongP, checkRange(decimals, 1, 3), check.If(len(p) == 1, api.ErrNone))
+	e := check.First(wrongP, check.Range(decimals, 1, 3), check.If(len(p) == 1, api.ErrNone))
 	if e != api.OK {
 		return api.Span{}, e
 	}

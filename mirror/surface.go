@@ -5,6 +5,7 @@ import (
 	"lenslet/check"
 	"lenslet/exact"
 	"lenslet/linear"
+	"lenslet/place"
 )
 
 // Plane is a plane: its value at 0, 0, and its slopes.
@@ -14,37 +15,15 @@ type Plane struct {
 	Tilt   api.Rat
 }
 
-// place is a place whose coordinates have been read.
-type place struct {
-	x, y exact.Number
-}
-
-// readPlace returns a place, or its first error.
-func readPlace(at api.Place) (place, api.Errno) {
-	x, wrongX := exact.Parse(at.X)
-	y, wrongY := exact.Parse(at.Y)
-	return place{x, y}, check.First(wrongX, wrongY)
-}
-
-// write returns a place with strings, or ErrLarge.
-func (at place) write() (api.Place, api.Errno) {
-	x, wrongX := at.x.Rat()
-	y, wrongY := at.y.Rat()
-	return api.Place{X: x, Y: y}, check.First(wrongX, wrongY)
-}
-
 // readPlaces returns places, or their first error.
-func readPlaces(at []api.Place) ([]place, api.Errno) {
-	if len(at) > MaxPlaces {
-		return nil, api.ErrMany
-	}
-	return check.Each(at, readPlace)
+func readPlaces(at []api.Place) ([]place.Place, api.Errno) {
+	return check.AtMost(at, MaxPlaces, place.Parse)
 }
 
 // influence returns the influence of an actuator at a place.
-func (p plate) influence(actuator int, at place) exact.Number {
-	right, up := at.x.Sub(p.places[actuator].x), at.y.Sub(p.places[actuator].y)
-	square := right.Square().Add(up.Square())
+func (p plate) influence(actuator int, at place.Place) exact.Number {
+	way := at.Minus(p.places[actuator])
+	square := way.X.Square().Add(way.Y.Square())
 	if square.Compare(p.reach) >= 0 {
 		return exact.Number{}
 	}
@@ -52,7 +31,7 @@ func (p plate) influence(actuator int, at place) exact.Number {
 }
 
 // influences returns the influence of each actuator at a place.
-func (p plate) influences(at place) []exact.Number {
+func (p plate) influences(at place.Place) []exact.Number {
 	list := make([]exact.Number, len(p.places))
 	for i := range list {
 		list[i] = p.influence(i, at)
@@ -63,7 +42,7 @@ func (p plate) influences(at place) []exact.Number {
 // Influence returns the influence of an actuator at a place.
 func Influence(m Mirror, actuator int, at api.Place) (api.Rat, api.Errno) {
 	p, wrongMirror := readMirror(m)
-	where, wrongPlace := readPlace(at)
+	where, wrongPlace := place.Parse(at)
 	e := check.First(wrongMirror, check.If(!m.has(actuator), api.ErrUnknown), wrongPlace)
 	if e != api.OK {
 		return "", e
@@ -78,7 +57,7 @@ func Matrix(m Mirror, at []api.Place) ([][]api.Rat, api.Errno) {
 	if e := check.First(wrongMirror, wrongPlaces); e != api.OK {
 		return nil, e
 	}
-	return check.Each(places, func(where place) ([]api.Rat, api.Errno) {
+	return check.Each(places, func(where place.Place) ([]api.Rat, api.Errno) {
 		list := p.influences(where)
 		for slave, master := range p.masters {
 			list[master] = list[master].Add(list[slave])
@@ -102,7 +81,7 @@ func Surface(m Mirror, c []api.Rat, at []api.Place) ([]api.Rat, api.Errno) {
 	if e := check.First(wrongCommand, wrongPlaces); e != api.OK {
 		return nil, e
 	}
-	return check.Each(places, func(where place) (api.Rat, api.Errno) {
+	return check.Each(places, func(where place.Place) (api.Rat, api.Errno) {
 		return linear.Product(numbers, p.influences(where)).Rat()
 	})
 }
@@ -129,14 +108,14 @@ func (p plane) write() (Plane, api.Errno) {
 }
 
 // at returns the value of a plane at a place.
-func (p plane) at(where place) exact.Number {
-	return p.piston.Add(p.tip.Mul(where.x)).Add(p.tilt.Mul(where.y))
+func (p plane) at(where place.Place) exact.Number {
+	return p.piston.Add(p.tip.Mul(where.X)).Add(p.tilt.Mul(where.Y))
 }
 
 // PlaneAt returns the value of a plane at a place.
 func PlaneAt(p Plane, at api.Place) (api.Rat, api.Errno) {
 	flat, wrongPlane := readPlane(p)
-	where, wrongPlace := readPlace(at)
+	where, wrongPlace := place.Parse(at)
 	if e := check.First(wrongPlane, wrongPlace); e != api.OK {
 		return "", e
 	}
@@ -148,7 +127,7 @@ func (p plate) planeOf(numbers []exact.Number) (plane, bool) {
 	var ones, xs, ys, heights []exact.Number
 	for i := range p.free() {
 		ones = append(ones, exact.Of(1, 1))
-		xs, ys = append(xs, p.places[i].x), append(ys, p.places[i].y)
+		xs, ys = append(xs, p.places[i].X), append(ys, p.places[i].Y)
 		heights = append(heights, numbers[i])
 	}
 	unit := toIntegers(heights)

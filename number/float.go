@@ -27,9 +27,6 @@ func Float(a api.Rat) (float32, api.Errno) {
 
 // CheckSamples returns the first error of samples, or OK.
 func CheckSamples(l []float32) api.Errno {
-	if len(l) > api.MaxSamples {
-		return api.ErrMany
-	}
-	_, e := check.Each(l, sample.Units)
+	_, e := check.AtMost(l, api.MaxSamples, sample.Units)
 	return e
 }

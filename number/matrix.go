@@ -7,24 +7,13 @@ import (
 	"lenslet/linear"
 )
 
-// checkCount returns the error of a number of rows or columns, or OK.
-func checkCount(n int) api.Errno {
-	switch {
-	case n == 0:
-		return api.ErrEmpty
-	case n > api.MaxSlopes:
-		return api.ErrMany
-	}
-	return api.OK
-}
-
 // readMatrix returns the numbers of a matrix, or its first error.
 func readMatrix(m [][]api.Rat) ([][]exact.Number, api.Errno) {
-	if e := checkCount(len(m)); e != api.OK {
+	if e := check.Count(len(m), api.MaxSlopes); e != api.OK {
 		return nil, e
 	}
 	return check.Each(m, func(row []api.Rat) ([]exact.Number, api.Errno) {
-		e := checkCount(len(row))
+		e := check.Count(len(row), api.MaxSlopes)
 		if e == api.OK && len(row) != len(m[0]) {
 			e = api.ErrShape
 		}

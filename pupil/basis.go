@@ -6,6 +6,7 @@ import (
 	"lenslet/api"
 	"lenslet/check"
 	"lenslet/exact"
+	"lenslet/grid"
 	"lenslet/linear"
 )
 
@@ -14,10 +15,7 @@ const maxCells = api.MaxSide * api.MaxSide
 
 // readVector returns the numbers of a vector, or its first error.
 func readVector(v []api.Rat) ([]exact.Number, api.Errno) {
-	if len(v) > maxCells {
-		return nil, api.ErrMany
-	}
-	return check.Each(v, exact.Parse)
+	return check.AtMost(v, maxCells, exact.Parse)
 }
 
 // writeVector returns the strings of numbers, or ErrLarge.
@@ -26,12 +24,7 @@ func writeVector(v []exact.Number) ([]api.Rat, api.Errno) {
 }
 
 // checkModes returns the error of a number of modes, or OK.
-func checkModes(n int) api.Errno {
-	return check.First(
-		check.If(n == 0, api.ErrEmpty),
-		check.If(n > api.MaxModes, api.ErrMany),
-	)
-}
+func checkModes(n int) api.Errno { return check.Count(n, api.MaxModes) }
 
 // readBasis returns the vectors of a basis, or its first error. It does not examine whether they
 // are orthogonal.
@@ -71,13 +64,13 @@ func isZero(v []exact.Number) bool {
 }
 
 // value returns the value of a polynomial at the centre of a cell.
-func (d disc) value(f polynomial, c cell) exact.Number {
+func (d disc) value(f polynomial, c grid.Cell) exact.Number {
 	x, y := d.centre(c)
 	return f.at(place{exact.Of(x, d.size), exact.Of(y, d.size)})
 }
 
 // sampled returns the values of a polynomial at the centres of cells.
-func (d disc) sampled(f polynomial, cells []cell) []exact.Number {
+func (d disc) sampled(f polynomial, cells []grid.Cell) []exact.Number {
 	values := make([]exact.Number, len(cells))
 	for k, c := range cells {
 		values[k] = d.value(f, c)
@@ -96,7 +89,7 @@ func Sampled(p Pupil, f Poly) ([]api.Rat, api.Errno) {
 	if len(cells) == 0 {
 		return nil, api.ErrNone
 	}
-	return check.Each(cells, func(c cell) (api.Rat, api.Errno) { return d.value(terms, c).Rat() })
+	return check.Each(cells, func(c grid.Cell) (api.Rat, api.Errno) { return d.value(terms, c).Rat() })
 }
 
 // readModes returns the polynomials of modes, or their first error.

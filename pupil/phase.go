@@ -4,6 +4,7 @@ import (
 	"lenslet/api"
 	"lenslet/check"
 	"lenslet/exact"
+	"lenslet/grid"
 	"lenslet/linear"
 	"lenslet/total"
 )
@@ -50,28 +51,28 @@ func Variance(phase []api.Rat) (api.Rat, api.Errno) {
 
 // square is a square of cells.
 type square struct {
-	corner cell
+	corner grid.Cell
 	side   int
 }
 
 // has reports whether a cell is in the square.
-func (s square) has(c cell) bool {
-	right, up := c.column-s.corner.column, c.row-s.corner.row
-	return right >= 0 && right < s.side && up >= 0 && up < s.side
+func (s square) has(c grid.Cell) bool {
+	from := c.Minus(s.corner)
+	return from.Column >= 0 && from.Column < s.side && from.Row >= 0 && from.Row < s.side
 }
 
 // checkSquare returns the first error of a corner and a side on a grid of a size, or OK.
 func checkSquare(corner [2]int, side, size int) api.Errno {
 	return check.First(
-		check.If(corner[0] < 0 || corner[0] >= size, api.ErrRange),
-		check.If(corner[1] < 0 || corner[1] >= size, api.ErrRange),
-		check.If(side < 1 || side > size-max(corner[0], corner[1]), api.ErrRange),
+		check.Range(corner[0], 0, size-1),
+		check.Range(corner[1], 0, size-1),
+		check.Range(side, 1, size-max(corner[0], corner[1])),
 	)
 }
 
 // meanOver returns the mean of the values of a polynomial at the centres of cells. The means of its
 // products of powers have small denominators, so that the large numbers are added only once.
-func (d disc) meanOver(cells []cell, f polynomial) exact.Number {
+func (d disc) meanOver(cells []grid.Cell, f polynomial) exact.Number {
 	parts := make([]exact.Number, len(f))
 	for k, t := range f {
 		parts[k] = t.c.Mul(mean(d.sampled(monomial(1, t.at.x, t.at.y), cells)))
@@ -86,8 +87,8 @@ func Slopes(p Pupil, f Poly, corner [2]int, side int) ([2]api.Rat, api.Errno) {
 	if e := check.First(wrongPupil, wrongPoly, checkSquare(corner, side, p.Size)); e != api.OK {
 		return [2]api.Rat{}, e
 	}
-	var cells []cell
-	area := square{cell{corner[0], corner[1]}, side}
+	var cells []grid.Cell
+	area := square{grid.At(corner[0], corner[1]), side}
 	for c := range d.cells() {
 		if area.has(c) {
 			cells = append(cells, c)

@@ -44,8 +44,8 @@ func harmonic(k int) (re, im polynomial) {
 // Zernike returns a Zernike polynomial.
 func Zernike(n, m int) (Poly, api.Errno) {
 	e := check.First(
-		check.If(n < 0 || n > MaxZernike, api.ErrRange),
-		check.If(m < -n || m > n, api.ErrRange),
+		check.Range(n, 0, MaxZernike),
+		check.Range(m, -n, n),
 		check.If((n-m)%2 != 0, api.ErrRule),
 	)
 	if e != api.OK {

@@ -28,7 +28,7 @@ func controlled(d [][]exact.Number) [][]exact.Number { return linear.Reduced(d).
 func seen(d [][]exact.Number, command []exact.Number) []exact.Number {
 	basis := controlled(d)
 	products := linear.Multiply(basis, linear.Transposed(basis))
-	coefficients, _ := linear.Solve(products, apply(basis, command))
+	coefficients, _ := linear.Solve(products, linear.Apply(basis, command))
 	return composed(basis, coefficients, len(command))
 }
 

@@ -87,7 +87,7 @@ func prove(d [][]exact.Number, weights []exact.Number, r [][]exact.Number) proof
 	p := proof{least: equal(left, right), inside: true}
 	blind := linear.Kernel(d)
 	for _, command := range linear.Columns(r) {
-		p.inside = p.inside && isZero(apply(blind, command))
+		p.inside = p.inside && isZero(linear.Apply(blind, command))
 	}
 	return p
 }
@@ -132,7 +132,7 @@ func Damped(d [][]api.Rat, weights []api.Rat, damping api.Rat) ([][]api.Rat, api
 	if e != api.OK {
 		return nil, e
 	}
-	added, e := readSigned(1)(damping)
+	added, e := exact.ParsePositive(damping)
 	if e != api.OK {
 		return nil, e
 	}

@@ -9,15 +9,6 @@ import (
 	"lenslet/linear"
 )
 
-// apply returns the product of a matrix and a list.
-func apply(m [][]exact.Number, list []exact.Number) []exact.Number {
-	product := make([]exact.Number, len(m))
-	for i, row := range m {
-		product[i] = linear.Product(row, list)
-	}
-	return product
-}
-
 // composed returns the sum of coefficients times modes with so many numbers.
 func composed(modes [][]exact.Number, coefficients []exact.Number, n int) []exact.Number {
 	sum := make([]exact.Number, n) // also where there are no modes
@@ -52,29 +43,28 @@ func squares(list, factors []exact.Number) exact.Number {
 	return linear.Product(products(list, list), factors)
 }
 
-// readFactors returns a matrix of any size, and a number for each column whose sign is at least the
-// given one, or their first error.
-func readFactors(m [][]api.Rat, list []api.Rat, least int) ([][]exact.Number, []exact.Number, api.Errno) {
+// readFactors returns a matrix of any size, and a number for each column, or their first error.
+func readFactors(m [][]api.Rat, list []api.Rat, read reader) ([][]exact.Number, []exact.Number, api.Errno) {
 	numbers, e := readMatrix(m, size{api.MaxSlopes, api.MaxSlopes})
 	if e != api.OK {
 		return nil, nil, e
 	}
-	factors, e := readSignedList(list, len(numbers[0]), least)
+	factors, e := readBy(list, len(numbers[0]), read)
 	return numbers, factors, e
 }
 
 // Apply returns the product of a matrix and a list.
 func Apply(m [][]api.Rat, list []api.Rat) ([]api.Rat, api.Errno) {
-	numbers, factors, e := readFactors(m, list, -1)
+	numbers, factors, e := readFactors(m, list, exact.Parse)
 	if e != api.OK {
 		return nil, e
 	}
-	return writeList(apply(numbers, factors))
+	return writeList(linear.Apply(numbers, factors))
 }
 
 // Noise returns the variance of each row of a product with independent errors.
 func Noise(m [][]api.Rat, variances []api.Rat) ([]api.Rat, api.Errno) {
-	numbers, factors, e := readFactors(m, variances, 0)
+	numbers, factors, e := readFactors(m, variances, exact.ParseUnsigned)
 	if e != api.OK {
 		return nil, e
 	}
@@ -85,11 +75,11 @@ func Noise(m [][]api.Rat, variances []api.Rat) ([]api.Rat, api.Errno) {
 
 // Compose returns the sum of coefficients times modes.
 func Compose(modes [][]api.Rat, coefficients []api.Rat) ([]api.Rat, api.Errno) {
-	if e := checkCount(len(modes), api.MaxModes); e != api.OK {
+	if e := check.Count(len(modes), api.MaxModes); e != api.OK {
 		return nil, e
 	}
 	actuators := len(modes[0])
-	if e := checkCount(actuators, api.MaxActuators); e != api.OK {
+	if e := check.Count(actuators, api.MaxActuators); e != api.OK {
 		return nil, e
 	}
 	vectors, e := readModes(modes, actuators)
@@ -105,7 +95,7 @@ func Compose(modes [][]api.Rat, coefficients []api.Rat) ([]api.Rat, api.Errno) {
 
 // residual returns the residual of slopes and a command.
 func residual(d [][]exact.Number, slopes, command []exact.Number) []exact.Number {
-	return differences(slopes, apply(d, command))
+	return differences(slopes, linear.Apply(d, command))
 }
 
 // Residual returns the residual of slopes and a command.

@@ -4,6 +4,7 @@ import (
 	"lenslet/api"
 	"lenslet/check"
 	"lenslet/exact"
+	"lenslet/grid"
 	"lenslet/sample"
 	"lenslet/total"
 	"lenslet/whole"
@@ -20,7 +21,7 @@ type Camera struct {
 type camera struct {
 	geometry   Geometry
 	dark, flat counts
-	bad        map[pixel]bool
+	bad        map[grid.Cell]bool
 }
 
 // readCamera returns a camera, or the first error of the geometry and the camera.
@@ -45,18 +46,18 @@ func checkFlat(flat counts) api.Errno {
 }
 
 // readBad returns the set of the bad pixels, or their first error.
-func readBad(g Geometry, bad [][2]int) (map[pixel]bool, api.Errno) {
+func readBad(g Geometry, bad [][2]int) (map[grid.Cell]bool, api.Errno) {
 	if len(bad) > api.MaxList {
 		return nil, api.ErrMany
 	}
-	kept := map[pixel]bool{}
+	kept := map[grid.Cell]bool{}
 	before := -1
 	for _, place := range bad {
-		p := pixel{place[0], place[1]}
-		index := p.row*g.width() + p.column
+		p := grid.At(place[0], place[1])
+		index := p.Row*g.width() + p.Column
 		e := check.First(
-			check.If(p.column < 0 || p.column >= g.width(), api.ErrRange),
-			check.If(p.row < 0 || p.row >= g.height(), api.ErrRange),
+			check.Range(p.Column, 0, g.width()-1),
+			check.Range(p.Row, 0, g.height()-1),
 			check.If(index <= before, api.ErrOrder),
 		)
 		if e != api.OK {
@@ -75,18 +76,18 @@ func CheckCamera(g Geometry, c Camera) api.Errno {
 }
 
 // trueCount returns the true count of a pixel of a frame.
-func (c camera) trueCount(frame counts, p pixel) exact.Number {
+func (c camera) trueCount(frame counts, p grid.Cell) exact.Number {
 	return exact.New(frame.at(p).Sub(c.dark.at(p)), c.flat.at(p))
 }
 
 // goodNeighbours returns the good pixels beside a pixel in its subaperture.
-func (c camera) goodNeighbours(p pixel) []pixel {
+func (c camera) goodNeighbours(p grid.Cell) []grid.Cell {
 	corner := c.geometry.corner(p)
-	var list []pixel
-	for step := range pixels(c.geometry.Side, c.geometry.Side) {
-		q := pixel{corner.column + step.column, corner.row + step.row}
-		right, up := q.column-p.column, q.row-p.row
-		if right*right+up*up == 1 && !c.bad[q] {
+	var list []grid.Cell
+	for step := range grid.Cells(c.geometry.Side, c.geometry.Side) {
+		q := corner.Plus(step)
+		way := q.Minus(p)
+		if way.Column*way.Column+way.Row*way.Row == 1 && !c.bad[q] {
 			list = append(list, q)
 		}
 	}
@@ -94,7 +95,7 @@ func (c camera) goodNeighbours(p pixel) []pixel {
 }
 
 // calibrated returns the true count of a good pixel, and the mean of those around a bad one.
-func (c camera) calibrated(frame counts, p pixel) exact.Number {
+func (c camera) calibrated(frame counts, p grid.Cell) exact.Number {
 	if !c.bad[p] {
 		return c.trueCount(frame, p)
 	}
@@ -115,15 +116,14 @@ func Calibrated(g Geometry, c Camera, frame [][]float32) ([][]float32, api.Errno
 	if e := check.First(wrongCamera, wrongFrame); e != api.OK {
 		return nil, e
 	}
-	return nearestFrame(g, func(p pixel) exact.Number { return taken.calibrated(raw, p) })
+	return nearestFrame(g, func(p grid.Cell) exact.Number { return taken.calibrated(raw, p) })
 }
 
 // Averaged returns the mean of frames.
 func Averaged(g Geometry, frames [][][]float32) ([][]float32, api.Errno) {
 	e := check.First(
 		CheckGeometry(g),
-		check.If(len(frames) == 0, api.ErrEmpty),
-		check.If(len(frames) > api.MaxFrames, api.ErrMany),
+		check.Count(len(frames), api.MaxFrames),
 	)
 	if e != api.OK {
 		return nil, e
@@ -132,7 +132,7 @@ func Averaged(g Geometry, frames [][][]float32) ([][]float32, api.Errno) {
 	if e != api.OK {
 		return nil, e
 	}
-	return nearestFrame(g, func(p pixel) exact.Number {
+	return nearestFrame(g, func(p grid.Cell) exact.Number {
 		series := make([]whole.Int, len(taken))
 		for k, frame := range taken {
 			series[k] = frame.at(p)

@@ -6,6 +6,7 @@ import (
 	"lenslet/api"
 	"lenslet/check"
 	"lenslet/exact"
+	"lenslet/grid"
 	"lenslet/sample"
 	"lenslet/total"
 	"lenslet/whole"
@@ -27,9 +28,9 @@ func Flux(g Geometry, frame [][]float32) ([]api.Rat, api.Errno) {
 func (c counts) sums() [2][]whole.Int {
 	side := len(c)
 	columns, rows := make([]whole.Int, side), make([]whole.Int, side)
-	for p := range pixels(side, side) {
-		columns[p.column] = columns[p.column].Add(c.at(p))
-		rows[p.row] = rows[p.row].Add(c.at(p))
+	for p := range grid.Cells(side, side) {
+		columns[p.Column] = columns[p.Column].Add(c.at(p))
+		rows[p.Row] = rows[p.Row].Add(c.at(p))
 	}
 	return [2][]whole.Int{columns, rows}
 }
@@ -88,7 +89,7 @@ func (c counts) plus(a exact.Number) counts {
 // Thresholded returns the centroids of the counts above a level.
 func Thresholded(g Geometry, frame [][]float32, level api.Rat) ([][2]api.Rat, api.Errno) {
 	parts, wrongFrame := readSubapertures(g, frame)
-	size, wrongLevel := readSize(level)
+	size, wrongLevel := exact.ParseUnsigned(level)
 	if e := check.First(wrongFrame, wrongLevel); e != api.OK {
 		return nil, e
 	}
@@ -123,8 +124,8 @@ func (c counts) hasNegative() bool {
 // Uncertain returns the spans of the centroid behind a lenslet, if counts have an error.
 func Uncertain(g Geometry, frame [][]float32, lenslet int, e api.Rat) ([2]api.Span, api.Errno) {
 	parts, wrongFrame := readSubapertures(g, frame)
-	size, wrongError := readSize(e)
-	wrong := check.First(wrongFrame, check.If(lenslet < 0 || lenslet >= len(parts), api.ErrRange), wrongError)
+	size, wrongError := exact.ParseUnsigned(e)
+	wrong := check.First(wrongFrame, check.Range(lenslet, 0, len(parts)-1), wrongError)
 	if wrong != api.OK {
 		return [2]api.Span{}, wrong
 	}

@@ -3,6 +3,7 @@ package sensor
 import (
 	"lenslet/api"
 	"lenslet/check"
+	"lenslet/grid"
 	"lenslet/sample"
 	"lenslet/total"
 	"lenslet/whole"
@@ -10,12 +11,12 @@ import (
 
 // correlation returns the correlation of a subaperture with a template that is shifted by columns
 // and rows.
-func (c counts) correlation(template counts, shift pixel) whole.Int {
+func (c counts) correlation(template counts, shift grid.Cell) whole.Int {
 	side := len(c)
 	var products []whole.Int
-	for p := range pixels(side, side) {
-		from := pixel{p.column - shift.column, p.row - shift.row}
-		if min(from.column, from.row) >= 0 && max(from.column, from.row) < side {
+	for p := range grid.Cells(side, side) {
+		from := p.Minus(shift)
+		if min(from.Column, from.Row) >= 0 && max(from.Column, from.Row) < side {
 			products = append(products, c.at(p).Mul(template.at(from)))
 		}
 	}
@@ -23,21 +24,21 @@ func (c counts) correlation(template counts, shift pixel) whole.Int {
 }
 
 // shifts returns all shifts up to a number, by rows and then by columns.
-func shifts(most int) []pixel {
-	var list []pixel
-	for p := range pixels(2*most+1, 2*most+1) {
-		list = append(list, pixel{p.column - most, p.row - most})
+func shifts(most int) []grid.Cell {
+	var list []grid.Cell
+	for p := range grid.Cells(2*most+1, 2*most+1) {
+		list = append(list, p.Minus(grid.At(most, most)))
 	}
 	return list
 }
 
 // bestShift returns the first one of the shifts with the greatest correlation.
-func (c counts) bestShift(template counts, list []pixel) pixel {
+func (c counts) bestShift(template counts, list []grid.Cell) grid.Cell {
 	correlations := make([]whole.Int, len(list))
 	for k, shift := range list {
 		correlations[k] = c.correlation(template, shift)
 	}
-	var best pixel
+	var best grid.Cell
 search:
 	for k, correlation := range correlations {
 		for _, other := range correlations {
@@ -56,14 +57,14 @@ func readTemplate(template [][]float32, side int) (counts, api.Errno) {
 	if len(template) != side {
 		return nil, api.ErrShape
 	}
-	return readRows(template, side, sample.Units)
+	return check.Rows(template, side, sample.Units)
 }
 
 // Correlated returns the whole shift by which a template fits best behind each lenslet.
 func Correlated(g Geometry, frame, template [][]float32, most int) ([][2]int, api.Errno) {
 	parts, wrongFrame := readSubapertures(g, frame)
 	pattern, wrongTemplate := readTemplate(template, g.Side)
-	e := check.First(wrongFrame, wrongTemplate, check.If(most < 0 || most > MaxShift, api.ErrRange))
+	e := check.First(wrongFrame, wrongTemplate, check.Range(most, 0, MaxShift))
 	if e != api.OK {
 		return nil, e
 	}
@@ -71,7 +72,7 @@ func Correlated(g Geometry, frame, template [][]float32, most int) ([][2]int, ap
 	found := make([][2]int, len(parts))
 	for k, part := range parts {
 		best := part.bestShift(pattern, list)
-		found[k] = [2]int{best.column, best.row}
+		found[k] = [2]int{best.Column, best.Row}
 	}
 	return found, api.OK
 }

@@ -6,6 +6,7 @@ import (
 	"lenslet/api"
 	"lenslet/check"
 	"lenslet/exact"
+	"lenslet/grid"
 	"lenslet/number"
 	"lenslet/sample"
 	"lenslet/total"
@@ -27,7 +28,7 @@ func Field(phases [][]int) ([][]complex64, api.Errno) {
 	if e := checkSide(len(phases), 2, 4, MaxField); e != api.OK {
 		return nil, e
 	}
-	return readRows(phases, len(phases), func(phase int) (complex64, api.Errno) { return quarter(phase), api.OK })
+	return check.Rows(phases, len(phases), func(phase int) (complex64, api.Errno) { return quarter(phase), api.OK })
 }
 
 // value is a complex number whose parts are in units of the least float.
@@ -47,7 +48,7 @@ func readField(field [][]complex64) ([][]value, api.Errno) {
 	if e := checkSide(len(field), 2, 4, MaxField); e != api.OK {
 		return nil, e
 	}
-	return readRows(field, len(field), readValue)
+	return check.Rows(field, len(field), readValue)
 }
 
 // span is all numbers between two integers.
@@ -108,14 +109,14 @@ func transformed(field [][]value) ([][]bounds, api.Errno) {
 		return nil, e
 	}
 	all := make([][]bounds, n)
-	for at := range pixels(n, n) {
+	for at := range grid.Cells(n, n) {
 		var re, im []span
-		for p := range pixels(n, n) {
-			u, factor := field[p.row][p.column], factors[(p.row*at.row+p.column*at.column)%n]
+		for p := range grid.Cells(n, n) {
+			u, factor := field[p.Row][p.Column], factors[(p.Row*at.Row+p.Column*at.Column)%n]
 			re = append(re, factor.re.times(u.re), factor.im.times(u.im))
 			im = append(im, factor.re.times(u.im), factor.im.times(u.re.Neg()))
 		}
-		all[at.row] = append(all[at.row], bounds{total.Of(re, span.plus), total.Of(im, span.plus)})
+		all[at.Row] = append(all[at.Row], bounds{total.Of(re, span.plus), total.Of(im, span.plus)})
 	}
 	return all, api.OK
 }
@@ -160,7 +161,7 @@ func Transform(field [][]complex64) ([][]complex64, api.Errno) {
 	if e != api.OK {
 		return nil, e
 	}
-	return readRows(all, len(all), bounds.nearest)
+	return check.Rows(all, len(all), bounds.nearest)
 }
 
 // toleranceBits is the number of halvings that make the tolerance of the sum of all parts.
@@ -210,7 +211,7 @@ func CheckTransform(field, transform [][]complex64) api.Errno {
 	if e = check.First(e, check.If(len(transform) != len(field), api.ErrShape)); e != api.OK {
 		return e
 	}
-	found, e := readRows(transform, len(field), readValue)
+	found, e := check.Rows(transform, len(field), readValue)
 	if e = check.First(e, checkSum(values)); e != api.OK {
 		return e
 	}

@@ -6,6 +6,7 @@ import (
 	"lenslet/api"
 	"lenslet/check"
 	"lenslet/exact"
+	"lenslet/grid"
 	"lenslet/number"
 	"lenslet/total"
 )
@@ -25,7 +26,7 @@ func Images(phases [][]int) ([4][][]api.Rat, api.Errno) {
 	}
 	var images [4][][]api.Rat
 	for q := range images {
-		if images[q], e = image(transform, pixel{q % 2, q / 2}); e != api.OK {
+		if images[q], e = image(transform, grid.At(q%2, q/2)); e != api.OK {
 			return [4][][]api.Rat{}, e
 		}
 	}
@@ -33,15 +34,15 @@ func Images(phases [][]int) ([4][][]api.Rat, api.Errno) {
 }
 
 // image returns the image of a quadrant of a transform.
-func image(transform [][]complex64, quadrant pixel) ([][]api.Rat, api.Errno) {
+func image(transform [][]complex64, quadrant grid.Cell) ([][]api.Rat, api.Errno) {
 	n := len(transform)
 	all := make([][]api.Rat, n)
-	for p := range pixels(n, n) {
+	for p := range grid.Cells(n, n) {
 		intensity, e := number.Of(brightness(transform, quadrant, p), n*n*n*n)
 		if e != api.OK {
 			return nil, e
 		}
-		all[p.row] = append(all[p.row], intensity)
+		all[p.Row] = append(all[p.Row], intensity)
 	}
 	return all, api.OK
 }
@@ -49,14 +50,14 @@ func image(transform [][]complex64, quadrant pixel) ([][]api.Rat, api.Errno) {
 // brightness returns the squared magnitude of the sum of the values in a quadrant of a transform,
 // each turned back, at a pixel. The parts of all values are small integers, with which floats
 // compute exactly.
-func brightness(transform [][]complex64, quadrant, p pixel) int {
+func brightness(transform [][]complex64, quadrant, p grid.Cell) int {
 	n := len(transform)
 	half := n / 2
 	var sum complex64
-	for step := range pixels(half, half) {
-		at := pixel{quadrant.column*half + step.column, quadrant.row*half + step.row}
-		turns := (p.row*at.row + p.column*at.column) * 4 / n
-		sum += transform[at.row][at.column] * quarter(turns)
+	for step := range grid.Cells(half, half) {
+		at := grid.At(quadrant.Column*half+step.Column, quadrant.Row*half+step.Row)
+		turns := (p.Row*at.Row + p.Column*at.Column) * 4 / n
+		sum += transform[at.Row][at.Column] * quarter(turns)
 	}
 	re, im := int(real(sum)), int(imag(sum))
 	return re*re + im*im
@@ -73,7 +74,7 @@ func readImages(images [4][][]api.Rat) ([4][][]exact.Number, api.Errno) {
 		if len(rows) != n {
 			return all, api.ErrShape
 		}
-		numbers, e := readRows(rows, n, exact.Parse)
+		numbers, e := check.Rows(rows, n, exact.Parse)
 		if e != api.OK {
 			return all, e
 		}
@@ -95,15 +96,15 @@ func Signals(images [4][][]api.Rat) ([][][2]api.Rat, api.Errno) {
 		return nil, api.ErrZero
 	}
 	signals := make([][][2]api.Rat, n)
-	for p := range pixels(n, n) {
-		first, second := all[0][p.row][p.column], all[1][p.row][p.column]
-		third, fourth := all[2][p.row][p.column], all[3][p.row][p.column]
+	for p := range grid.Cells(n, n) {
+		first, second := all[0][p.Row][p.Column], all[1][p.Row][p.Column]
+		third, fourth := all[2][p.Row][p.Column], all[3][p.Row][p.Column]
 		byColumns, wrongColumns := first.Add(third).Sub(second).Sub(fourth).Quo(mean).Rat()
 		byRows, wrongRows := first.Add(second).Sub(third).Sub(fourth).Quo(mean).Rat()
 		if e := check.First(wrongColumns, wrongRows); e != api.OK {
 			return nil, e
 		}
-		signals[p.row] = append(signals[p.row], [2]api.Rat{byColumns, byRows})
+		signals[p.Row] = append(signals[p.Row], [2]api.Rat{byColumns, byRows})
 	}
 	return signals, api.OK
 }

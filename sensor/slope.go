@@ -4,15 +4,13 @@ import (
 	"lenslet/api"
 	"lenslet/check"
 	"lenslet/exact"
+	"lenslet/grid"
 	"lenslet/number"
 )
 
 // readCentroids returns centroids as places, or their first error.
 func readCentroids(list [][2]api.Rat) ([]api.Place, api.Errno) {
-	if len(list) > MaxLenslets*MaxLenslets {
-		return nil, api.ErrMany
-	}
-	return check.Each(list, func(centroid [2]api.Rat) (api.Place, api.Errno) {
+	return check.AtMost(list, MaxLenslets*MaxLenslets, func(centroid [2]api.Rat) (api.Place, api.Errno) {
 		e := check.First(number.Check(centroid[0]), number.Check(centroid[1]))
 		return api.Place{X: centroid[0], Y: centroid[1]}, e
 	})
@@ -98,12 +96,12 @@ func Spots(g Geometry, places [][2]api.Rat, flux api.Rat) ([][]float32, api.Errn
 		return nil, e
 	}
 	spots, wrongPlace := check.Each(places, func(place [2]api.Rat) (spot, api.Errno) { return readSpot(place, g.Side) })
-	size, wrongFlux := readSize(flux)
+	size, wrongFlux := exact.ParseUnsigned(flux)
 	if e := check.First(wrongPlace, wrongFlux); e != api.OK {
 		return nil, e
 	}
-	return nearestFrame(g, func(p pixel) exact.Number {
+	return nearestFrame(g, func(p grid.Cell) exact.Number {
 		s := spots[g.lenslet(p)]
-		return s.columns(p.column % g.Side).Mul(s.rows(p.row % g.Side)).Mul(size)
+		return s.columns(p.Column % g.Side).Mul(s.rows(p.Row % g.Side)).Mul(size)
 	})
 }
